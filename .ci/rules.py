@@ -90,6 +90,11 @@ def faults_of_node(node, own):
         yield from faults_of_import(node)
     if isinstance(node, ast.FunctionDef):
         yield from faults_of_function(node)
+    if isinstance(node, ast.Call):
+        for part in node.args + [keyword.value for keyword in node.keywords if keyword.arg is None]:
+            told = part.value if isinstance(part, ast.Starred) else part
+            if isinstance(part, ast.Starred) and not isinstance(told, (ast.Name, ast.Attribute, ast.List, ast.Tuple)):
+                yield node.lineno, "L7: what stands behind a star"
     if isinstance(node, ast.Constant) and isinstance(node.value, (float, complex)):
         yield node.lineno, "L7: a float"
     if isinstance(node, ast.Constant) and isinstance(node.value, str) and "%" in node.value:

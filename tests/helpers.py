@@ -181,6 +181,36 @@ class Draws:
     def placing(self):
         return (self.turning(), self.triple())
 
+    def plain_screw(self):
+        """A screw with small numbers: a line, a slide or any other one."""
+        kind = self.random.randrange(4)
+        d = [self.whole(-1, 1) for _ in range(3)]
+        r = [self.whole(-1, 1) for _ in range(3)]
+        if kind == 0:
+            return screw([0, 0, 0] + d)
+        if kind == 3:
+            return screw(d + plus(outer(r, d), times(self.whole(-1, 1), d)))
+        return screw(d + outer(r, d))
+
+    def screws(self, count):
+        """So many screws; some of them are sums of others."""
+        drawn = []
+        plain = self.random.randrange(3)
+        for _ in range(count):
+            if len(drawn) > 1 and self.random.randrange(5) == 0:
+                weights = [self.small() for _ in drawn]
+                drawn.append(screw(weighed(drawn, weights)))
+            else:
+                drawn.append(self.plain_screw() if plain else self.screw())
+        return tuple(drawn)
+
+    def system(self, most=6):
+        """The base of a system of an order from 0 to 6."""
+        return own_system(self.screws(self.whole(0, most)))
+
+    def screw_in(self, system):
+        return screw(weighed(system, [self.number() for _ in system]))
+
 
 def plain_turning(parts):
     common = gcd(*parts)
@@ -287,3 +317,96 @@ def given(values, error):
 def indexed(values, error):
     """`values` are pairs of a wrong value and the index that is kept."""
     return [(value, error, {"index": index}) for value, index in values]
+
+
+# Rows of numbers, reduced by the tests' own sums.
+
+def own_stairs(rows):
+    """The rows in stairs: the first number of each that is not 0 is 1, and 0 in all others."""
+    rows = [list(row) for row in rows]
+    done = 0
+    for place in range(len(rows[0]) if rows else 0):
+        found = [at for at in range(done, len(rows)) if rows[at][place] != 0]
+        if not found:
+            continue
+        rows[done], rows[found[0]] = rows[found[0]], rows[done]
+        rows[done] = times(1 / Fraction(rows[done][place]), rows[done])
+        for at in range(len(rows)):
+            if at != done and rows[at][place] != 0:
+                rows[at] = minus(rows[at], times(rows[at][place], rows[done]))
+        done += 1
+    return rows[:done]
+
+
+def own_rank(rows):
+    return len(own_stairs(rows))
+
+
+def own_system(screws):
+    return tuple(screw(row) for row in own_stairs([six(told) for told in screws]))
+
+
+def own_is_in(system, told):
+    rows = [six(part) for part in system]
+    return own_rank(rows + [six(told)]) == own_rank(rows)
+
+
+def own_back(system):
+    """The system of all screws with power 0 on each screw of the system."""
+    rows = own_stairs([six(part)[3:] + six(part)[:3] for part in system])
+    places = [[at for at, value in enumerate(row) if value][0] for row in rows]
+    found = []
+    for free in range(6):
+        if free not in places:
+            row = [Fraction(int(at == free)) for at in range(6)]
+            for lead, place in zip(rows, places):
+                row[place] = -lead[free]
+            found.append(row)
+    return tuple(screw(row) for row in own_stairs(found))
+
+
+def weighed(screws, weights):
+    """The sum of the screws, each times its weight, as numbers."""
+    total = [Fraction(0)] * 6
+    for told, weight in zip(screws, weights):
+        total = plus(total, times(Fraction(weight), six(told)))
+    return total
+
+
+def wrong_bases(system):
+    """Tuples of screws near to a base that is not (), none of them a base."""
+    first = system[0]
+    yield system + (first,)
+    yield system + (((_O,) * 3, (_O,) * 3),)
+    yield (((_O,) * 3, (_O,) * 3),) + system
+    yield (screw(times(2, six(first))),) + system[1:]
+    yield (screw(times(-1, six(first))),) + system[1:]
+    yield list(system)
+    yield (list(first),) + system[1:]
+    yield system[:-1] + (None,)
+    yield system[:-1] + (system[-1] + (None,),)
+    yield first[:1] + system
+    if len(system) > 1:
+        yield tuple(reversed(system))
+        yield system[1:] + system[:1]
+        yield (screw(plus(six(first), six(system[-1]))),) + system[1:]
+        yield system[:-1] + (screw(plus(six(first), six(system[-1]))),)
+        yield system[:-1] + (screw(times(Fraction(1, 3), six(system[-1]))),)
+
+
+UP = (NOUGHT, Z)
+WRONG_SYSTEMS = ANYTHING + [
+    [], [(X, NOUGHT)], (X, NOUGHT), X, (X,), ((X, NOUGHT), None), (None, (X, NOUGHT)), ((X, NOUGHT), (X, NOUGHT)),
+    ((NOUGHT, NOUGHT),), (((_I, (2, 4), _O), NOUGHT),), ((((2, 1), _O, _O), NOUGHT),), ((((-1, 1), _O, _O), NOUGHT),),
+    ((Y, NOUGHT), (X, NOUGHT)), ((X, X), (Y, (_O, _I, _O)), (NOUGHT, X)), ((X, NOUGHT), ((_I, _I, _O), NOUGHT)),
+    (((_I, _I, _O), NOUGHT), (Y, NOUGHT)), ([X, NOUGHT],), ((X, NOUGHT), [NOUGHT, X]), ((X, NOUGHT, X),), ((X,),),
+    ((NOUGHT, X), (X, NOUGHT)), ((X, NOUGHT), UP, UP), ((NOUGHT, (_O, _O, (1, 2))),), {(X, NOUGHT): 1}, {(X, NOUGHT)},
+    (UP, (NOUGHT, NOUGHT)), ((NOUGHT, NOUGHT), UP), (UP, (NOUGHT, Y)), (UP, UP), ((X, NOUGHT), (Y, NOUGHT), (Z, NOUGHT),
+    (NOUGHT, X), (NOUGHT, Y), (NOUGHT, Z), (NOUGHT, NOUGHT)), ((X, NOUGHT), (Y, NOUGHT), (Z, NOUGHT), (NOUGHT, X),
+    (NOUGHT, Y), (NOUGHT, Z), (NOUGHT, Z)),
+]
+WRONG_SCREW_TUPLES = [(value, 0 if isinstance(value, tuple) else None) for value in ANYTHING] + [
+    ([], None), ([(X, Y)], None), ((X, Y), 0), (((X, Y), X), 1), (((X, Y), (X, Y), None), 2), ((None, (X, Y), 7), 0),
+    (((X, Y), [X, Y]), 1), (((X, Y), (X, (_O, _O, (2, 4)))), 1), (((X, Y),) * 59 + ((X, 1),), 59), ({(X, Y): 1}, None),
+    ({(X, Y)}, None), (((X, Y), ((X, Y),)), 1), (((X, Y), (), (X, Y)), 1), (((X, Y, X),), 0),
+]

@@ -21,6 +21,47 @@ SCREWS = """
 [True, (1, 1), (1, 1), (((0, 1), (-1, 2), (0, 1)), ((0, 1), (0, 1), (-1, 2)))]
 """
 
+TURNINGS = """
+>>> from sevenpins.turnings import back_placing, back_turning, is_turning, joined_placings, joined_turnings, placed, placed_screw, turned, turning_of
+>>> quarter, aside = (1, 0, 0, 1), ((1, 0, 0, 1), x)
+>>> [is_turning((2, 0, 0, 2)), is_turning((0, -1, 0, 0)), turning_of((-2, 0, 0, 4)), turned(quarter, x) == y, turned((2, 1, 0, 0), y), joined_turnings(quarter, quarter), back_turning(quarter)]
+[False, False, (1, 0, 0, -2), True, ((0, 1), (3, 5), (4, 5)), (0, 0, 0, 1), (1, 0, 0, -1)]
+>>> [placed(aside, x), back_placing(aside) == ((1, 0, 0, -1), y), joined_placings(aside, back_placing(aside)) == ((1, 0, 0, 0), o), joined_placings(aside, aside), placed_screw(aside, (x, o)) == (y, z)]
+[((1, 1), (1, 1), (0, 1)), True, True, ((0, 0, 0, 1), ((1, 1), (1, 1), (0, 1))), True]
+"""
+
+SYSTEMS = """
+>>> from sevenpins.screws import line_at, slide_along
+>>> from sevenpins.systems import back_of, is_in, joined_systems, meeting, order_of, resting_at, screws_in, shares_of, slides_in, system_of
+>>> origin, ahead, left, up = o, x, y, z
+>>> hinge, far = line_at(origin, up), line_at(ahead, up)
+>>> pair = system_of((far, hinge, far))
+>>> [pair == ((up, origin), (origin, left)), slides_in(pair) == ((origin, left),), shares_of(pair, line_at((half, zero, zero), up)), shares_of(pair, slide_along(up)), is_in(pair, hinge)]
+[True, True, ((1, 1), (-1, 2)), None, True]
+>>> [order_of(back_of(pair)), back_of(back_of(pair)) == pair, resting_at(pair, origin) == (hinge,), meeting(pair, system_of((hinge, slide_along(up)))) == (hinge,), order_of(joined_systems(pair, back_of(pair))), order_of(screws_in(back_of(()), origin, up)), order_of(resting_at(back_of(()), left))]
+[4, True, True, True, 4, 3, 3]
+"""
+
+LINES = """
+>>> from sevenpins.lines import do_cross, line_through, lines_across
+>>> axle, beam = line_through(origin, ahead), line_through(origin, left)
+>>> posts = (line_at((one, one, zero), up), line_at((two, one, zero), up))
+>>> [axle == (ahead, origin), line_through(ahead, origin) == axle, do_cross(axle, beam), do_cross(axle, line_at(left, up)), do_cross(posts[0], posts[1]), lines_across((axle, beam) + posts), lines_across((axle, beam)), lines_across((axle, beam) + posts + (line_at(left, ahead),)), lines_across((axle, beam) + posts + (line_at(((5, 1), zero, one), left),))]
+[True, True, True, False, True, 'two', 'endless', 'one', 'none']
+"""
+
+PITCHES = """
+>>> from sevenpins.pitches import crossing_line, greatest_near, has_pitch, is_open, least_near, pitch_count, principal_counts, signs_at
+>>> ring = system_of((line_at(origin, ahead), line_at(up, left)))
+>>> [signs_at(ring, (0, 1)), signs_at(ring, (1, 2)), signs_at(ring, (1, 1)), principal_counts(ring, (0, 1)), pitch_count(ring, (0, 1)), pitch_count(ring, (1, 2)), pitch_count(ring, (1, 1)), has_pitch(ring, (-1, 2))]
+[(1, 0, 1), (0, 1, 1), (0, 0, 2), (1, 0, 1), 'two', 'one', 'none', True]
+>>> [least_near(ring, 10), greatest_near(ring, 10), least_near(ring, 1), greatest_near(ring, 1), crossing_line(ring) == hinge, is_open(pair), pitch_count(pair, (0, 1)), crossing_line(pair), least_near(slides_in(pair), 1)]
+[-5, 5, -1, 0, True, False, 'endless', None, None]
+>>> slack = system_of((hinge, slide_along(up)))
+>>> [is_open(slack), pitch_count(slack, (3, 1)), greatest_near(slack, 1), principal_counts(slack, (0, 1))]
+[True, 'one', 'all', None]
+"""
+
 
 def parted(text):
     """Pairs of a row of code and what is told behind it, None for nothing."""
@@ -46,6 +87,21 @@ class Examples(unittest.TestCase):
 
     def test_screws(self):
         self.run_examples(TRIPLES, SCREWS)
+
+    def test_turnings(self):
+        self.run_examples(TRIPLES, TURNINGS)
+
+    def test_systems(self):
+        self.run_examples(TRIPLES, SYSTEMS)
+
+    def test_lines(self):
+        self.run_examples(TRIPLES, SYSTEMS, LINES)
+
+    def test_pitches(self):
+        self.run_examples(TRIPLES, SYSTEMS, PITCHES)
+
+    def test_all(self):
+        self.run_examples(TRIPLES, TURNINGS, SCREWS, SYSTEMS, LINES, PITCHES)
 
 
 if __name__ == "__main__":

@@ -9,7 +9,7 @@ from sevenpins.triples import (
 )
 from tests.helpers import (
     ANYTHING, NOUGHT, WRONG_DIRECTIONS, WRONG_FRACTIONS, WRONG_TRIPLES, WRONG_WHOLES, X, Y, Z, Draws,
-    assert_fraction, assert_triple, check_refusals, given, inner, number, outer, pair, plus, same_number, same_vector,
+    assert_fraction, assert_triple, check_refusals, given, inner, number, outer, plus, same_number, same_vector,
     times, triple, vector,
 )
 
@@ -191,7 +191,6 @@ class Refusals(unittest.TestCase):
             told = triple_sum(cross(told, X), triple_times(told, dot(told, told)))
         assert_triple(self, told)
         self.assertEqual(number(dot(told, told)), inner(vector(told), vector(told)))
-        self.assertEqual(pair(number(told[0])), told[0])
 
 
 if __name__ == "__main__":

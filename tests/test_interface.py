@@ -1,0 +1,54 @@
+"""The names and arguments of the interface, and where they are defined."""
+import importlib
+import inspect
+import unittest
+
+INTERFACE = {
+    "triples": [
+        "is_fraction(value)", "is_triple(value)", "is_direction(value)", "fraction_of(number, other)",
+        "triple_sum(triple, other)", "triple_times(triple, fraction)", "dot(triple, other)", "cross(triple, other)",
+        "plain_direction(direction)",
+    ],
+    "turnings": [
+        "is_turning(value)", "is_placing(value)", "turning_of(numbers)", "turned(turning, triple)",
+        "joined_turnings(turning, other)", "back_turning(turning)", "placed(placing, point)",
+        "joined_placings(placing, other)", "back_placing(placing)", "placed_screw(placing, screw)",
+    ],
+    "screws": [
+        "is_screw(value)", "is_line(value)", "line_at(point, direction)", "slide_along(direction)",
+        "screw_about(point, direction, pitch)", "screw_sum(screw, other)", "screw_times(screw, fraction)",
+        "power(screw, other)", "moment_at(screw, point)", "pitch_of(screw)", "axis_point(screw)",
+        "nearest_points(screw, other)", "apart_square(screw, other)",
+    ],
+    "systems": [
+        "is_system(value)", "system_of(screws)", "order_of(system)", "is_in(system, screw)", "shares_of(system, screw)",
+        "joined_systems(system, other)", "meeting(system, other)", "back_of(system)", "slides_in(system)",
+        "resting_at(system, point)", "placed_system(placing, system)", "screws_in(system, point, direction)",
+    ],
+    "lines": ["line_through(point, other)", "do_cross(line, other)", "lines_across(lines)"],
+    "pitches": [
+        "signs_at(system, fraction)", "is_open(system)", "screw_below(system, fraction)", "screw_above(system, fraction)",
+        "has_pitch(system, fraction)", "pitch_pair(system, fraction)", "pitch_count(system, fraction)",
+        "principal_counts(system, fraction)", "least_near(system, many)", "greatest_near(system, many)",
+        "crossing_line(system)",
+    ],
+}
+
+
+class Interface(unittest.TestCase):
+    def test_functions(self):
+        for name, signatures in INTERFACE.items():
+            module = importlib.import_module("sevenpins." + name)
+            for told in signatures:
+                with self.subTest(module=name, function=told):
+                    function = getattr(module, told.split("(")[0])
+                    self.assertTrue(inspect.isfunction(function))
+                    self.assertEqual(function.__module__, "sevenpins." + name)
+                    parameters = inspect.signature(function).parameters
+                    self.assertEqual(", ".join(parameters), told.split("(")[1].rstrip(")"))
+                    for parameter in parameters.values():
+                        self.assertIs(parameter.kind, inspect.Parameter.POSITIONAL_OR_KEYWORD)
+
+
+if __name__ == "__main__":
+    unittest.main()
