@@ -1,8 +1,8 @@
 """Sums of tuples of fractions, triples above all; what is passed is not checked here."""
-from sevenpins.ratios import ONE, ZERO, over_common, ratio, ratio_product, ratio_sum
+from sevenpins.ratios import over_common, ratio, ratio_product, ratio_sum
 
-NOUGHT = (ZERO, ZERO, ZERO)
-AXES = ((ONE, ZERO, ZERO), (ZERO, ONE, ZERO), (ZERO, ZERO, ONE))
+NOUGHT = ((0, 1), (0, 1), (0, 1))
+AXES = (((1, 1), (0, 1), (0, 1)), ((0, 1), (1, 1), (0, 1)), ((0, 1), (0, 1), (1, 1)))
 
 
 def is_nought(numbers):

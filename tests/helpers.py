@@ -255,7 +255,8 @@ WRONG_DIRECTIONS = WRONG_TRIPLES + [NOUGHT]
 WRONG_SCREWS = ANYTHING + [
     (), (X,), (X, Y, Z), [X, Y], X, NOUGHT, _O, (X, 1), (1, X), (X, None), (None, X), (X, list(Y)), (list(X), Y),
     ([_O, _O, _O], X), (X, (_O, _O)), ((_O, _O), X), (X, (_O, _O, (2, 4))), (((0, 2), _O, _O), X), (X, (1, 2, 3)),
-    ((1, 2, 3), X), X + Y, (X + Y,), ((X, Y),), ((X, Y), Y), {0: X, 1: Y}, {X, Y}, "xy", (X, "abc"), (X, (_O, _O, True)),
+    ((1, 2, 3), X), X + Y, (X + Y,), ((X, Y),), ((X, Y), Y), {0: X, 1: Y}, {X, Y}, "xy", (X, "abc"),
+    (X, (_O, _O, True)),
     (X, (_O, _O, _O, _O)), ((_I, _I, (1, -1)), NOUGHT), (NOUGHT, ((1, 0), _O, _O)),
 ]
 WRONG_LINES = WRONG_SCREWS + [

@@ -27,8 +27,9 @@ INTERFACE = {
     ],
     "lines": ["line_through(point, other)", "do_cross(line, other)", "lines_across(lines)"],
     "pitches": [
-        "signs_at(system, fraction)", "is_open(system)", "screw_below(system, fraction)", "screw_above(system, fraction)",
-        "has_pitch(system, fraction)", "pitch_pair(system, fraction)", "pitch_count(system, fraction)",
+        "signs_at(system, fraction)", "is_open(system)", "screw_below(system, fraction)",
+        "screw_above(system, fraction)", "has_pitch(system, fraction)", "pitch_pair(system, fraction)",
+        "pitch_count(system, fraction)",
         "principal_counts(system, fraction)", "least_near(system, many)", "greatest_near(system, many)",
         "crossing_line(system)",
     ],

@@ -55,7 +55,8 @@ class Through(unittest.TestCase):
         self.assertEqual(line_through(NOUGHT, X), (X, NOUGHT))
         self.assertEqual(line_through(X, NOUGHT), (X, NOUGHT))
         self.assertEqual(line_through(X, triple((1, -6, 0))), (Y, Z))
-        self.assertEqual(line_through(triple((0, 0, 1)), triple((Fraction(1, 2), Fraction(-1, 3), 1))), line((0, 0, 1), (3, -2, 0)))
+        there = triple((Fraction(1, 2), Fraction(-1, 3), 1))
+        self.assertEqual(line_through(triple((0, 0, 1)), there), line((0, 0, 1), (3, -2, 0)))
 
     def test_along(self):
         draws = Draws(92)
@@ -88,7 +89,8 @@ class Crossing(unittest.TestCase):
         axle = line((0, 0, 0), (1, 0, 0))
         for other, expected in [
             (axle, True), (line((5, 0, 0), (-2, 0, 0)), True), (line((0, 7, 1), (3, 0, 0)), True),
-            (line((9, 0, 0), (1, 2, 3)), True), (line((0, 0, 1), (0, 1, 0)), False), (line((0, 1, 0), (0, 0, 1)), False),
+            (line((9, 0, 0), (1, 2, 3)), True), (line((0, 0, 1), (0, 1, 0)), False),
+            (line((0, 1, 0), (0, 0, 1)), False),
             (line((0, Fraction(1, 10 ** 30), 0), (0, 0, 1)), False),
         ]:
             self.assertIs(do_cross(axle, other), expected)
@@ -188,7 +190,8 @@ class Refusals(unittest.TestCase):
 
     def test_lines(self):
         good = self.good
-        wrong = [((), None), ([], None), ([good], None), ({good: 1}, None), ({good}, None), (good, 0), ((good, good, [good]), 2)]
+        wrong = [((), None), ([], None), ([good], None), ({good: 1}, None), ({good}, None), (good, 0)]
+        wrong.append(((good, good, [good]), 2))
         wrong += [(value, 0 if isinstance(value, tuple) else None) for value in ANYTHING]
         for place in range(6):
             for value in WRONG_LINES:

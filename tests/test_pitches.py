@@ -324,8 +324,8 @@ class Counts(Case):
 class Principal(Case):
     PITCHES = [
         (), (0,), (-2,), (Fraction(7, 3),), (1, 2), (0, 0), (-1, 1), (Fraction(1, 2), Fraction(-1, 3)), (1, 2, 3),
-        (5, 5, -1), (-4, -4, -4), (0, Fraction(-1, 7), Fraction(10 ** 22, 3)), (10 ** 30, -10 ** 30, Fraction(1, 10 ** 30)),
-        (0, 0, 0), (3, 0, 3),
+        (5, 5, -1), (-4, -4, -4), (0, Fraction(-1, 7), Fraction(10 ** 22, 3)),
+        (10 ** 30, -10 ** 30, Fraction(1, 10 ** 30)), (0, 0, 0), (3, 0, 3),
     ]
 
     def known(self, seed):
@@ -396,8 +396,9 @@ class Principal(Case):
         draws = Draws(84)
         roots = 0
         for _ in range(100):
-            first = about([draws.whole(-3, 3) for _ in range(3)], (1, draws.whole(-2, 2), 0), draws.whole(-3, 3))
-            second = about([draws.whole(-3, 3) for _ in range(3)], (draws.whole(-2, 2), 1, draws.whole(1, 2)), draws.whole(-3, 3))
+            here, there = ([draws.whole(-3, 3) for _ in range(3)] for _ in range(2))
+            first = about(here, (1, draws.whole(-2, 2), 0), draws.whole(-3, 3))
+            second = about(there, (draws.whole(-2, 2), 1, draws.whole(1, 2)), draws.whole(-3, 3))
             system = own_system([first, second])
             (a, b), (_, d) = [[2 * value for value in row] for row in own_matrix([first, second], 0)]
             lines = six(first)[:3], six(second)[:3]
@@ -428,7 +429,8 @@ class Principal(Case):
             self.assertIs(least_near(system, 1), None)
             self.assertIs(greatest_near(system, 5), None)
             self.assertEqual(principal_counts(system, (1, 2)), (0, 0, 0))
-        self.assertEqual([least_near(ALL, 1), greatest_near(ALL, 1), principal_counts(ALL, (0, 1))], ["all", "all", None])
+        self.assertEqual([least_near(ALL, 1), greatest_near(ALL, 1)], ["all", "all"])
+        self.assertIs(principal_counts(ALL, (0, 1)), None)
 
     def test_pitches_lie_between(self):
         for draws, system in self.drawn(85, 120):
@@ -491,8 +493,9 @@ class Crossing(Case):
     def test_none(self):
         o, x, y, z = (0, 0, 0), (1, 0, 0), (0, 1, 0), (0, 0, 1)
         none = [
-            (), (about(o, x, 0),), (slide(x),), (slide(x), slide(y)), (about(o, x, 0), slide(x)), (about(o, x, 0), slide(y)),
-            (about(o, z, 0), about(x, z, 0)), (about(o, z, 0), about(o, z, 1)), (about(o, z, 0), about(x, (0, 0, -2), 3)),
+            (), (about(o, x, 0),), (slide(x),), (slide(x), slide(y)), (about(o, x, 0), slide(x)),
+            (about(o, x, 0), slide(y)), (about(o, z, 0), about(x, z, 0)), (about(o, z, 0), about(o, z, 1)),
+            (about(o, z, 0), about(x, (0, 0, -2), 3)),
             (about(o, x, 0), about(o, y, 0), about(o, z, 0)), (about(o, x, 0), about(z, y, 0), about(y, z, 1)), ALL,
             (about(o, x, 0), about(z, y, 0), slide(z)),
         ]
@@ -528,7 +531,10 @@ class Refusals(unittest.TestCase):
             self.assertEqual(function(((X, NOUGHT),), 1), 0)
 
     def test_what_is_returned_may_be_passed(self):
-        big = [screw([Fraction(10 ** 80 + 7 * row + at * at, 10 ** 80 + 3 ** (row + at)) for at in range(6)]) for row in range(2)]
+        big = [
+            screw([Fraction(10 ** 80 + 7 * row + at * at, 10 ** 80 + 3 ** (row + at)) for at in range(6)])
+            for row in range(2)
+        ]
         system = own_system(big)
         least = least_near(system, 10 ** 6)
         pitch = own_pitch(screw_below(system, pair(Fraction(least + 2, 10 ** 6))))

@@ -32,7 +32,8 @@ def told_systems():
         ((line(o, z), line(x, z)), 2), ((line(o, z), line(x, z), line(y, z)), 3),
         ((line(o, x), line(o, y), line(o, z)), 3), ((line(o, x), line(x, y), line(y, x)), 3),
         ((line(o, x), line(z, y)), 2), ((line(o, x), screw([1, 0, 0, 5, 0, 0])), 2),
-        ((line(o, x), line(o, y), line(o, z), line(x, z)), 4), ((line(z, x), line(z, y), line(z, z), line(x, z), line(y, x)), 5),
+        ((line(o, x), line(o, y), line(o, z), line(x, z)), 4),
+        ((line(z, x), line(z, y), line(z, z), line(x, z), line(y, x)), 5),
         (ALL, 6), ((line(x, y), line(x, y), line(x, (0, -3, 0))), 1),
     ]
 
@@ -240,7 +241,8 @@ class Parts(Case):
         at = (2, -1, 3)
         for axis in ((1, 0, 0), (1, 2, 3)):
             self.assertEqual(resting_at(own_system([line(at, axis)]), triple(at)), own_system([line(at, axis)]))
-        self.assertEqual(resting_at(ALL, triple(at)), own_system([line(at, d) for d in ((1, 0, 0), (0, 1, 0), (0, 0, 1))]))
+        turns = [line(at, axis) for axis in ((1, 0, 0), (0, 1, 0), (0, 0, 1))]
+        self.assertEqual(resting_at(ALL, triple(at)), own_system(turns))
 
     def test_in_a_plane(self):
         some = 0
@@ -348,7 +350,10 @@ class Refusals(unittest.TestCase):
         })
 
     def test_what_is_returned_may_be_passed(self):
-        big = [screw([Fraction(10 ** 200 + 7 * row + at * at, 10 ** 190 + 3 ** (row + at)) for at in range(6)]) for row in range(4)]
+        big = [
+            screw([Fraction(10 ** 200 + 7 * row + at * at, 10 ** 190 + 3 ** (row + at)) for at in range(6)])
+            for row in range(4)
+        ]
         system = system_of(tuple(big))
         for _ in range(3):
             self.assertIs(is_system(system), True)

@@ -35,7 +35,8 @@ class Kinds(unittest.TestCase):
             self.assertIs(is_triple(value), False, value)
 
     def test_is_direction(self):
-        good = [X, Y, Z, ((1, 2), (-1, 3), (0, 1)), ((0, 1), (0, 1), (-1, BIG)), ((0, 1), (-7, 2), (0, 1)), ((5, 1),) * 3]
+        good = [X, Y, Z, ((1, 2), (-1, 3), (0, 1)), ((0, 1), (0, 1), (-1, BIG)), ((0, 1), (-7, 2), (0, 1)),
+                ((5, 1),) * 3]
         for value in good:
             self.assertIs(is_direction(value), True, value)
             self.assertIs(is_direction(value=value), True, value)
@@ -174,7 +175,8 @@ class Refusals(unittest.TestCase):
         })
 
     def test_plain_direction(self):
-        check_refusals(self, plain_direction, {"direction": X}, {"direction": given(WRONG_DIRECTIONS, InvalidDirection)})
+        directions = given(WRONG_DIRECTIONS, InvalidDirection)
+        check_refusals(self, plain_direction, {"direction": X}, {"direction": directions})
 
     def test_anything_is_no_argument(self):
         for value in ANYTHING:

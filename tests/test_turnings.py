@@ -21,8 +21,8 @@ WRONG_TURNINGS = ANYTHING + [
     (), (1,), (1, 0, 0), (1, 0, 0, 0, 0), [1, 0, 0, 0], (0, 0, 0, 0), (2, 0, 0, 2), (0, -1, 0, 0), (-1, 0, 0, 0),
     (0, 0, -2, 3), (0, 0, 0, -1), (2, 0, 0, 0), (0, 0, 0, 5), (2, 4, 6, 8), (-1, 1, 1, 1), (True, 0, 0, 0),
     (1, False, 0, 0), (1, 0, 0, None), ("1", 0, 0, 0), (1, 0, 0, (0, 1)), ((1, 1), (0, 1), (0, 1), (0, 1)), "1000",
-    b"abcd", {1: 0, 0: 1, 2: 3, 4: 5}, {1, 0, 2, 3}, (1, 0, 0, "0"), (3 * BIG, 0, 6, 0), (1, [0], 0, 0), ((1, 0, 0, 0),),
-    (1, 0, 0, b""),
+    b"abcd", {1: 0, 0: 1, 2: 3, 4: 5}, {1, 0, 2, 3}, (1, 0, 0, "0"), (3 * BIG, 0, 6, 0), (1, [0], 0, 0),
+    ((1, 0, 0, 0),), (1, 0, 0, b""),
 ]
 WRONG_PLACINGS = ANYTHING + [
     (), (STILL,), (STILL, NOUGHT, NOUGHT), [STILL, NOUGHT], (NOUGHT, STILL), (STILL, STILL), (NOUGHT, NOUGHT), STILL,
@@ -227,17 +227,19 @@ class Placings(unittest.TestCase):
 
 class Refusals(unittest.TestCase):
     def test_turning_of(self):
-        wrong = ANYTHING[:-2] + [
-            (0, 0, 0, 0), (), (1, 2, 3), (1, 2, 3, 4, 5), [1, 2, 3, 4], (1, 2, 3, True), (False, 1, 1, 1), (1, 2, None, 4),
-            ("1", 2, 3, 4), (1, 2, 3, "4"), (1, (2,), 3, 4), "1234", b"1234", {1: 2, 3: 4, 5: 6, 7: 8}, {1, 2, 3, 4}, (1, 2, 3, [4]),
-            ((1, 1), (2, 1), (3, 1), (4, 1)), ((1, 2, 3, 4),),
+        wrong = ANYTHING + [
+            (), (1, 2, 3), (1, 2, 3, 4, 5), [1, 2, 3, 4], (1, 2, 3, True), (False, 1, 1, 1), ("1", 2, 3, 4),
+            (1, 2, None, 4), (1, 2, 3, "4"), (1, (2,), 3, 4), (1, 2, 3, [4]), "1234", b"1234",
+            {1: 2, 3: 4, 5: 6, 7: 8}, {1, 2, 3, 4}, ((1, 1), (2, 1), (3, 1), (4, 1)), ((1, 2, 3, 4),), (0, 0, 0, 0),
         ]
         check_refusals(self, turning_of, {"numbers": (1, 2, 3, 4)}, {"numbers": given(wrong, InvalidTurning)})
 
     def test_turnings(self):
         turnings = given(WRONG_TURNINGS, InvalidTurning)
         check_refusals(self, back_turning, {"turning": STILL}, {"turning": turnings})
-        check_refusals(self, joined_turnings, {"turning": STILL, "other": STILL}, {"turning": turnings, "other": turnings})
+        check_refusals(self, joined_turnings, {"turning": STILL, "other": STILL}, {
+            "turning": turnings, "other": turnings,
+        })
         check_refusals(self, turned, {"turning": STILL, "triple": X}, {
             "turning": turnings, "triple": given(WRONG_TRIPLES, InvalidTriple),
         })
@@ -245,7 +247,9 @@ class Refusals(unittest.TestCase):
     def test_placings(self):
         placings = given(WRONG_PLACINGS, InvalidPlacing)
         check_refusals(self, back_placing, {"placing": REST}, {"placing": placings})
-        check_refusals(self, joined_placings, {"placing": REST, "other": REST}, {"placing": placings, "other": placings})
+        check_refusals(self, joined_placings, {"placing": REST, "other": REST}, {
+            "placing": placings, "other": placings,
+        })
         check_refusals(self, placed, {"placing": REST, "point": X}, {
             "placing": placings, "point": given(WRONG_TRIPLES, InvalidTriple),
         })
