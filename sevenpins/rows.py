@@ -4,7 +4,7 @@ A row stands for all its multiples, so rows are kept without a common divisor.
 """
 from math import gcd, lcm
 
-from sevenpins.ratios import forward, over_common, without_common
+from sevenpins.ratios import ZERO, forward, over_common, ratio, without_common
 
 
 def whole_row(fractions):
@@ -81,3 +81,34 @@ def weighed_rows(weights, rows, width):
     for weight, row in zip(weights, rows):
         total = [number + weight * part for number, part in zip(total, row)]
     return total
+
+
+def weights_for(rows, target):
+    """Any fractions by which rows of fractions add up to the target, None if there are none."""
+    count = len(rows)
+    weights = [ZERO] * count
+    equations = [whole_row([row[at] for row in rows] + [number]) for at, number in enumerate(target)]
+    for lead in stairs(equations):
+        place = first_place(lead)
+        if place == count:
+            return None
+        weights[place] = ratio(lead[count], lead[place])
+    return weights
+
+
+def determinant(rows):
+    """The determinant of as many rows of whole numbers as each row has numbers."""
+    left, last, sign = rows, 1, 1
+    while left:
+        at = first_place([row[0] for row in left])
+        if at == len(left):
+            return 0
+        lead = left[at]
+        # Each number is then a determinant of rows of the told ones, so the lead before divides it (Bareiss).
+        left = [
+            [(lead[0] * number - row[0] * part) // last for number, part in zip(row[1:], lead[1:])]
+            for row in left[:at] + left[at + 1:]
+        ]
+        last = lead[0]
+        sign = -sign if at % 2 else sign
+    return sign * last

@@ -354,15 +354,7 @@ def own_is_in(system, told):
 
 def own_back(system):
     """The system of all screws with power 0 on each screw of the system."""
-    rows = own_stairs([six(part)[3:] + six(part)[:3] for part in system])
-    places = [[at for at, value in enumerate(row) if value][0] for row in rows]
-    found = []
-    for free in range(6):
-        if free not in places:
-            row = [Fraction(int(at == free)) for at in range(6)]
-            for lead, place in zip(rows, places):
-                row[place] = -lead[free]
-            found.append(row)
+    found = own_kernel([six(part)[3:] + six(part)[:3] for part in system], 6)
     return tuple(screw(row) for row in own_stairs(found))
 
 
@@ -411,3 +403,46 @@ WRONG_SCREW_TUPLES = [(value, 0 if isinstance(value, tuple) else None) for value
     (((X, Y), [X, Y]), 1), (((X, Y), (X, (_O, _O, (2, 4)))), 1), (((X, Y),) * 59 + ((X, 1),), 59), ({(X, Y): 1}, None),
     ({(X, Y)}, None), (((X, Y), ((X, Y),)), 1), (((X, Y), (), (X, Y)), 1), (((X, Y, X),), 0),
 ]
+
+
+def own_kernel(rows, width):
+    """Rows that make all rows of this width whose products with each of the told ones add up to 0."""
+    rows = own_stairs(rows)
+    places = [[at for at, value in enumerate(row) if value][0] for row in rows]
+    found = []
+    for free in range(width):
+        if free not in places:
+            row = [Fraction(int(at == free)) for at in range(width)]
+            for lead, place in zip(rows, places):
+                row[place] = -lead[free]
+            found.append(row)
+    return found
+
+
+def own_meeting(first, second):
+    """The meeting of two systems: the sums of the one that are sums of the other, too."""
+    rows = [six(part) for part in first] + [times(-1, six(part)) for part in second]
+    columns = [list(column) for column in zip(*rows)]
+    found = own_kernel(columns, len(rows)) if rows else []
+    return own_system([screw(weighed(first, row[:len(first)])) for row in found])
+
+
+def own_line(point, direction):
+    return screw(list(direction) + outer(list(point), list(direction)))
+
+
+def own_turned(turning, values):
+    """The three numbers turned."""
+    w, u = turning[0], list(turning[1:])
+    square = inner(u, u)
+    total = plus(times(w * w - square, values), times(2 * inner(u, values), u))
+    return times(Fraction(1) / (w * w + square), plus(total, times(2 * w, outer(u, values))))
+
+
+def assert_base(case, told):
+    """Whether a value is the base of a system."""
+    case.assertIs(type(told), tuple)
+    for part in told:
+        assert_screw(case, part)
+    rows = [six(part) for part in told]
+    case.assertEqual(rows, own_stairs(rows))

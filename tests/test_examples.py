@@ -62,6 +62,39 @@ PITCHES = """
 [True, 'one', 'all', None]
 """
 
+JOINTS = """
+>>> from sevenpins.joints import arm_bears, arm_moves, barring_push, bears_of, idle_order, legs_moves, moves_of, rates_for
+>>> elbow = (("turn", origin, up), ("turn", ahead, up))
+>>> [moves_of(("screw", origin, up, half)) == ((up, triple_times(up, half)),), order_of(moves_of(("ball", left))), order_of(bears_of(("cylinder", origin, up))), moves_of(("plane", up)) == system_of((hinge, slide_along(ahead), slide_along(left)))]
+[True, 3, 4, True]
+>>> [arm_moves(elbow) == pair, rates_for(elbow, slide_along(left)), rates_for(elbow, slide_along(up)), barring_push(elbow, slide_along(left)), idle_order(elbow), idle_order(elbow + (("turn", left, up),)), idle_order(elbow + elbow)]
+[True, (((1, 1),), ((-1, 1),)), None, None, 0, 0, 2]
+>>> legs_moves(((("ball", origin),), (("ball", ahead),))) == system_of((line_at(origin, ahead),))
+True
+"""
+
+WEBS = """
+>>> from sevenpins.webs import body_moves, freedom, moves_between, needless_links, spare_bonds
+>>> far_corner = (one, one, zero)
+>>> frame = (3, ((0, 1, ("turn", origin, up)), (1, 2, ("turn", left, up)), (2, 3, ("turn", far_corner, up)), (3, 0, ("turn", ahead, up))))
+>>> door = (1, ((0, 1, ("ball", origin)), (0, 1, ("ball", ahead)), (0, 1, ("ball", (two, zero, zero)))))
+>>> [freedom(frame), spare_bonds(frame), body_moves(frame, 2) == system_of((slide_along(ahead),)), moves_between(frame, 1, 3) == system_of((slide_along(left),)), needless_links(frame)]
+[1, 3, True, True, ()]
+>>> [freedom(door), spare_bonds(door), needless_links(door), freedom((2, ()))]
+[1, 4, (0, 1, 2), 12]
+"""
+
+STANDS = """
+>>> from sevenpins.stands import idle_push, is_lost, lost_below, lost_count, lost_near, stand_rows
+>>> slides = (("slide", ahead), ("slide", left), ("slide", up))
+>>> wrist = (("turn", origin, ahead), ("turn", origin, up), ("turn", origin, ahead)) + slides
+>>> steady = (("turn", origin, up), ("turn", origin, ahead), ("turn", origin, left)) + slides
+>>> [stand_rows(wrist, 1), stand_rows(steady, 0), lost_count(wrist, 1), lost_count(steady, 0), lost_count(wrist, 0), lost_count(slides + slides[:2] + wrist[:1], 5)]
+[((0, 1), (-2, 1), (0, 1), (-2, 1), (0, 1)), ((1, 1), (0, 1), (2, 1), (0, 1), (1, 1)), 2, 0, 'all', 'all']
+>>> [is_lost(wrist, 1, (0, 1)), is_lost(wrist, 1, (1, 1)), is_lost(wrist, 1, None), lost_near(wrist, 1, 0, 10), lost_near(wrist, 1, 1, 10), lost_below(wrist, 1, (0, 1)), idle_push(wrist, 1, (1, 1))]
+[True, False, True, 0, None, 0, None]
+"""
+
 
 def parted(text):
     """Pairs of a row of code and what is told behind it, None for nothing."""
@@ -100,8 +133,17 @@ class Examples(unittest.TestCase):
     def test_pitches(self):
         self.run_examples(TRIPLES, SYSTEMS, PITCHES)
 
+    def test_joints(self):
+        self.run_examples(TRIPLES, SYSTEMS, JOINTS)
+
+    def test_webs(self):
+        self.run_examples(TRIPLES, SYSTEMS, WEBS)
+
+    def test_stands(self):
+        self.run_examples(TRIPLES, SYSTEMS, STANDS)
+
     def test_all(self):
-        self.run_examples(TRIPLES, TURNINGS, SCREWS, SYSTEMS, LINES, PITCHES)
+        self.run_examples(TRIPLES, TURNINGS, SCREWS, SYSTEMS, LINES, PITCHES, JOINTS, WEBS, STANDS)
 
 
 if __name__ == "__main__":

@@ -33,6 +33,19 @@ INTERFACE = {
         "principal_counts(system, fraction)", "least_near(system, many)", "greatest_near(system, many)",
         "crossing_line(system)",
     ],
+    "joints": [
+        "is_joint(value)", "moves_of(joint)", "bears_of(joint)", "arm_moves(arm)", "arm_bears(arm)", "legs_moves(legs)",
+        "legs_bears(legs)", "rates_for(arm, move)", "barring_push(arm, move)", "idle_order(arm)",
+    ],
+    "webs": [
+        "is_web(value)", "freedom(web)", "spare_bonds(web)", "body_moves(web, number)",
+        "moves_between(web, number, other)", "needless_links(web)",
+    ],
+    "stands": [
+        "is_crane(value)", "screws_at(crane, index, stand)", "stand_rows(crane, index)", "is_lost(crane, index, stand)",
+        "idle_push(crane, index, stand)", "lost_count(crane, index)", "lost_below(crane, index, fraction)",
+        "lost_near(crane, index, place, many)",
+    ],
 }
 
 
