@@ -87,12 +87,14 @@ def weights_for(rows, target):
     """Any fractions by which rows of fractions add up to the target, None if there are none."""
     count = len(rows)
     weights = [ZERO] * count
-    equations = [whole_row([row[at] for row in rows] + [number]) for at, number in enumerate(target)]
+    wholes = [over_common(row) for row in rows]
+    numbers, common = over_common(target)
+    equations = [[row[at] for row, _ in wholes] + [number] for at, number in enumerate(numbers)]
     for lead in stairs(equations):
         place = first_place(lead)
         if place == count:
             return None
-        weights[place] = ratio(lead[count], lead[place])
+        weights[place] = ratio(lead[count] * wholes[place][1], lead[place] * common)
     return weights
 
 

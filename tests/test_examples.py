@@ -95,6 +95,57 @@ STANDS = """
 [True, False, True, 0, None, 0, None]
 """
 
+TOUCHES = """
+>>> from sevenpins.touches import comes_off, holding_weights, is_left, keeping, placed_jig, rows_of, word_of
+>>> here, side, far = o, y, (two, zero, zero)
+>>> rows_of(("stop", ahead, up))
+(((((0, 1), (0, 1), (1, 1)), ((0, 1), (-1, 1), (0, 1))), False),)
+>>> mount = (("cup", here), ("groove", far, (zero, one, one), (zero, less, one)), ("stop", (zero, two, zero), up))
+>>> vice = (("stop", here, up), ("stop", here, (zero, zero, less)))
+>>> firm = (("cup", here), ("stop", side, up), ("stop", up, ahead), ("stop", ahead, side), ("stop", (half, half, less), (one, less, zero)))
+>>> [word_of(mount), word_of(vice), word_of(firm), word_of(firm[:4]), word_of(firm[:1]), len(keeping(vice)), len(keeping(mount)), keeping(firm)]
+['loose', 'kept', 'held', 'loose', 'kept', 5, 0, ()]
+>>> [comes_off(mount, 0), comes_off(mount, 1), comes_off(vice, 1), is_left(mount, (ahead, here)), is_left(firm, (ahead, here)), holding_weights(mount)]
+[False, True, False, True, False, None]
+>>> [holding_weights(firm)[3] == holding_weights(firm)[6], word_of(placed_jig(firm, ((1, 1, 0, 0), (one, two, zero))))]
+[True, 'held']
+"""
+
+HOLDS = """
+>>> from sevenpins.holds import fewest_holding, holders_among, kept_touches, needless_touches
+>>> some = (firm[4], ("stop", here, up), ("pin",) + firm[4][1:])
+>>> [kept_touches(mount), kept_touches(firm), holders_among(firm[:4], some), holders_among(firm, some), fewest_holding(mount)]
+[(0,), (0, 1, 2, 3, 4), (0, 2), (0, 1, 2), None]
+>>> double = firm + (firm[1],)
+>>> [fewest_holding(double), needless_touches(double), needless_touches(firm), fewest_holding(double[1:]), fewest_holding((firm[1],) + firm)]
+[(0, 1, 2, 3, 4), (1, 5), (), None, (0, 1, 3, 4, 5)]
+"""
+
+LOADS = """
+>>> from sevenpins.loads import are_all_borne, bearing_weights, clamp_range, is_borne, is_settled, least_greatest, times_range, weight_range
+>>> load, lift, heavy = ((zero, zero, less), ((-1, 2), half, zero)), (up, ((4, 1), zero, zero)), ((zero, zero, (-4, 1)), here)
+>>> bearing_weights(mount, load)
+((0, 1), (0, 1), (1, 2), (1, 8), (1, 8), (1, 4))
+>>> [is_borne(mount, lift), times_range(mount, load, lift), times_range(mount, lift, load), times_range(mount, lift, lift), clamp_range(mount, load, (lift, load)), are_all_borne(mount, (load, lift)), are_all_borne(firm, (load, lift))]
+[False, ((0, 1), (1, 8)), ((8, 1), None), None, ((8, 1), None), False, True]
+>>> table = (("rest", ((one, one, zero), (one, less, zero), (less, less, zero), (less, one, zero)), up),)
+>>> [weight_range(table, heavy, 0), is_settled(table, heavy), least_greatest(table, heavy), weight_range(vice, heavy, 0), weight_range(table, lift, 0), is_settled(mount, load), least_greatest(mount, load)]
+[((0, 1), (2, 1)), False, (1, 1), ((4, 1), None), None, True, (1, 2)]
+"""
+
+MARKS = """
+>>> from sevenpins.marks import errors_fit, fits_move, fitting_move, is_settled_mark, mark_range, mark_shares
+>>> near, deep = ((-1, 10), (1, 10)), (two, two, zero)
+>>> pins = ((here, up, near), (far, up, near), ((zero, two, zero), up, near), (here, side, near), (far, side, near), (here, ahead, near))
+>>> mark_shares(pins, (deep, up))
+((-1, 1), (1, 1), (1, 1), (0, 1), (0, 1), (0, 1))
+>>> more, wrong = pins + ((deep, up, ((1, 5), (1, 5))),), pins + ((deep, up, ((2, 5), (1, 2))),)
+>>> [mark_range(pins, (deep, up)), mark_range(more, (deep, up)), mark_range(more, (here, up)), mark_range(pins[:5], (here, ahead)), is_settled_mark(pins[:5], (here, ahead)), fitting_move(wrong)]
+[((-3, 10), (3, 10)), ((1, 5), (1, 5)), ((-1, 10), (0, 1)), None, False, None]
+>>> [fits_move(pins, (here, (zero, zero, (1, 9)))), fits_move(pins, (here, (zero, zero, (1, 10)))), errors_fit(more, (zero,) * 7), errors_fit(more, (zero,) * 6 + (one,)), errors_fit(pins, (one,) * 6)]
+[False, True, True, False, True]
+"""
+
 
 def parted(text):
     """Pairs of a row of code and what is told behind it, None for nothing."""
@@ -142,8 +193,22 @@ class Examples(unittest.TestCase):
     def test_stands(self):
         self.run_examples(TRIPLES, SYSTEMS, STANDS)
 
+    def test_touches(self):
+        self.run_examples(TRIPLES, SYSTEMS, TOUCHES)
+
+    def test_holds(self):
+        self.run_examples(TRIPLES, SYSTEMS, TOUCHES, HOLDS)
+
+    def test_loads(self):
+        self.run_examples(TRIPLES, SYSTEMS, TOUCHES, LOADS)
+
+    def test_marks(self):
+        self.run_examples(TRIPLES, SYSTEMS, TOUCHES, MARKS)
+
     def test_all(self):
-        self.run_examples(TRIPLES, TURNINGS, SCREWS, SYSTEMS, LINES, PITCHES, JOINTS, WEBS, STANDS)
+        self.run_examples(
+            TRIPLES, TURNINGS, SCREWS, SYSTEMS, LINES, PITCHES, JOINTS, WEBS, STANDS, TOUCHES, HOLDS, LOADS, MARKS,
+        )
 
 
 if __name__ == "__main__":

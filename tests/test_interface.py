@@ -46,6 +46,24 @@ INTERFACE = {
         "idle_push(crane, index, stand)", "lost_count(crane, index)", "lost_below(crane, index, fraction)",
         "lost_near(crane, index, place, many)",
     ],
+    "touches": [
+        "is_touch(value)", "is_jig(value)", "rows_of(touch)", "jig_rows(jig)", "is_left(jig, move)", "word_of(jig)",
+        "holding_weights(jig)", "free_move(jig)", "keeping(jig)", "comes_off(jig, index)", "off_move(jig, index)",
+        "on_weights(jig, index)", "opening_move(jig)", "placed_jig(jig, placing)",
+    ],
+    "holds": [
+        "kept_touches(jig)", "holders_among(jig, touches)", "fewest_holding(jig)", "needless_touches(jig)",
+    ],
+    "loads": [
+        "is_borne(jig, push)", "bearing_weights(jig, push)", "breaking_move(jig, push)", "are_all_borne(jig, lot)",
+        "times_range(jig, push, other)", "clamp_range(jig, clamp, lot)", "weight_range(jig, push, index)",
+        "is_settled(jig, push)", "least_greatest(jig, push)",
+    ],
+    "marks": [
+        "is_gauge(value)", "fits_move(gauge, move)", "fitting_move(gauge)", "misfit_weights(gauge)",
+        "errors_fit(gauge, value)", "is_settled_mark(gauge, mark)", "mark_shares(gauge, mark)",
+        "blind_move(gauge, mark)", "mark_range(gauge, mark)", "range_weights(gauge, mark)",
+    ],
 }
 
 

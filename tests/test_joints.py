@@ -29,7 +29,8 @@ def wrong_joints():
     found = list(ANYTHING)
     found += ["turn", ["turn", Y, Z], ("hinge", Y, Z), ("Turn", Y, Z), ("turn ", Y, Z), (b"turn", Y, Z), ((), Y, Z)]
     found += [(["turn"], Y, Z), (("turn",), Y, Z), (None, Y, Z), ({}, Y, Z), (0, Y, Z), ("", Y), ("stop", Y, Z), Z]
-    found += [("turn", Z, Y, HALF), ("screw", Y, Z), ("slide", Y, Z), ("slide",), ("ball", Y, Z), ("ball",), ("free", Y)]
+    found += [("turn", Z, Y, HALF), ("screw", Y, Z), ("slide", Y, Z), ("slide",), ("ball", Y, Z), ("ball",)]
+    found.append(("free", Y))
     for word, good in GOOD.items():
         found += [good + (good[-1],), good + (None,), list(good), good[1:], (good,), ("pin",) + good[1:]]
         if len(good) > 1:
@@ -285,7 +286,8 @@ class Refusals(unittest.TestCase):
 
     def wrong_arms(self):
         good = self.good
-        wrong = [((), None), ([], None), ([good], None), ({good: 1}, None), (good, 0), ((good, [good]), 1), ("turn", None)]
+        wrong = [((), None), ([], None), ([good], None), ({good: 1}, None), (good, 0), ((good, [good]), 1)]
+        wrong.append(("turn", None))
         wrong += [(value, 0 if isinstance(value, tuple) and value else None) for value in ANYTHING]
         wrong += [((good,) * place + (value, None), place) for place in (0, 3, 7) for value in WRONG_JOINTS]
         wrong += [((good,) * place + (value,), place) for place in (1, 7) for value in WRONG_JOINTS[-60:]]
@@ -314,6 +316,9 @@ class Refusals(unittest.TestCase):
         for function in (rates_for, barring_push):
             good = {"arm": (self.good,), "move": (X, Y)}
             check_refusals(self, function, good, {"arm": arms, "move": screws})
+            # An arm that bears nothing, and one that moves nothing, are no ways past a wrong move.
+            for word in ("free", "fixed"):
+                check_refusals(self, function, {"arm": ((word,),), "move": (X, Y)}, {"arm": arms[::20], "move": screws})
 
     def test_legs(self):
         legs = indexed(self.wrong_legs(), InvalidLegs)

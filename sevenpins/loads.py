@@ -1,0 +1,162 @@
+"""Which pushes a jig bears, with which weights, and how far they may grow ([33] to [35])."""
+from sevenpins.balances import balance_or_move, balance_table, opposite, order_of_rows, pushes_of, screw_total, ways_of
+from sevenpins.errors import InvalidIndex, InvalidLot
+from sevenpins.ratios import ONE, ZERO
+from sevenpins.screws import check_screw, is_screw
+from sevenpins.systems import numbers_of
+from sevenpins.tables import Table
+from sevenpins.touches import all_rows, check_jig
+from sevenpins.triples import is_whole
+
+MOST_IN_A_LOT = 6
+
+
+def check_lot(lot):
+    if not isinstance(lot, tuple) or not lot:
+        raise InvalidLot(None)
+    for index, push in enumerate(lot):
+        if index == MOST_IN_A_LOT or not is_screw(push):
+            raise InvalidLot(index)
+
+
+def check_row_index(jig, index):
+    if not is_whole(index) or not 0 <= index < len(all_rows(jig)):
+        raise InvalidIndex(index)
+
+
+def bears(jig, push):
+    return balance_or_move(all_rows(jig), push)[0] is not None
+
+
+def is_borne(jig, push):
+    """Whether the jig bears the push."""
+    check_jig(jig)
+    check_screw(push)
+    return bears(jig, push)
+
+
+def bearing_weights(jig, push):
+    """A balance of the push, None if it is not borne."""
+    check_jig(jig)
+    check_screw(push)
+    weights, _ = balance_or_move(all_rows(jig), push)
+    return None if weights is None else tuple(weights)
+
+
+def breaking_move(jig, push):
+    """A move that is left on which the power of the push is above 0, None if the push is borne."""
+    check_jig(jig)
+    check_screw(push)
+    return balance_or_move(all_rows(jig), push)[1]
+
+
+def are_all_borne(jig, lot):
+    """Whether the jig bears all pushes of the lot."""
+    check_jig(jig)
+    check_lot(lot)
+    return all(bears(jig, push) for push in lot)
+
+
+def weight_ends(table, place):
+    """The least and the greatest weight of the column at this place, None for without end.
+
+    The table has weights that meet its equations.
+    """
+    ends = []
+    for sign in (1, -1):
+        costs = [(sign, 1) if at == place else ZERO for at in range(table.many)]
+        ends.append(table.weights()[place] if table.make_least(costs) else None)
+    return tuple(ends)
+
+
+def factors_for(rows, push, other):
+    """The least and the greatest f from 0 on for which the push plus f times the other one is borne."""
+    columns = [numbers_of(told) for told in pushes_of(rows)] + [numbers_of(other)]
+    table = Table(columns, numbers_of(opposite(push)), ways_of(rows) + [False])
+    return None if table.barrier() is not None else weight_ends(table, len(rows))
+
+
+def times_range(jig, push, other):
+    """The least and the greatest f, None for without end, for which the push plus f times the other one is borne."""
+    check_jig(jig)
+    check_screw(push)
+    check_screw(other)
+    return factors_for(all_rows(jig), push, other)
+
+
+def is_above(first, second):
+    return first[0] * second[1] > second[0] * first[1]
+
+
+def met_ranges(first, second):
+    """What two ranges have in common, None for nothing; the greatest numbers may be None, for without end."""
+    low = second[0] if is_above(second[0], first[0]) else first[0]
+    high = first[1]
+    if high is None or (second[1] is not None and is_above(high, second[1])):
+        high = second[1]
+    return None if high is not None and is_above(low, high) else (low, high)
+
+
+def clamp_range(jig, clamp, lot):
+    """The least and the greatest f for which f times the clamp plus each push of the lot is borne; None for no f."""
+    check_jig(jig)
+    check_screw(clamp)
+    check_lot(lot)
+    rows, found = all_rows(jig), (ZERO, None)
+    for push in lot:
+        told = factors_for(rows, push, clamp)
+        found = None if told is None else met_ranges(found, told)
+        if found is None:
+            return None
+    return found
+
+
+def weight_range(jig, push, index):
+    """The least and the greatest weight of the row over all balances, None for without end; None for no balance."""
+    check_jig(jig)
+    check_screw(push)
+    check_row_index(jig, index)
+    table = balance_table(all_rows(jig), push)
+    return None if table.barrier() is not None else weight_ends(table, index)
+
+
+def are_alone(rows, weights):
+    """Whether the weights are the only balance of what they balance."""
+    stuck = [not both and weight[0] == 0 for (_, both), weight in zip(rows, weights)]
+    moving = [row for row, is_stuck in zip(rows, stuck) if not is_stuck]
+    if order_of_rows(moving) < len(moving):
+        return False
+    # Another balance differs by a sum that makes 0, in which the weights that are 0 now do not go down.
+    columns = [
+        numbers_of(push) + ((ONE,) if is_stuck else (ZERO,)) for (push, _), is_stuck in zip(rows, stuck)
+    ]
+    return Table(columns, (ZERO,) * 6 + (ONE,), [not is_stuck for is_stuck in stuck]).barrier() is not None
+
+
+def is_settled(jig, push):
+    """Whether the push has just one balance."""
+    check_jig(jig)
+    check_screw(push)
+    rows = all_rows(jig)
+    weights, _ = balance_or_move(rows, push)
+    return weights is not None and are_alone(rows, weights)
+
+
+def least_greatest(jig, push):
+    """The least number from 0 on that no weight of some balance is above, nor its opposite for rows both ways."""
+    check_jig(jig)
+    check_screw(push)
+    rows = all_rows(jig)
+    many = len(rows)
+    # Of each row both ways the weight and the bound together stand here, from 0 up to twice the bound.
+    units = [tuple(ONE if at == place else ZERO for at in range(many)) for place in range(many)]
+    columns = [numbers_of(told) + unit for told, unit in zip(pushes_of(rows), units)]
+    columns += [(ZERO,) * 6 + unit for unit in units]
+    both_ways = screw_total([told for told, both in rows if both])
+    bounds = tuple((-2, 1) if both else (-1, 1) for both in ways_of(rows))
+    columns.append(numbers_of(opposite(both_ways)) + bounds)
+    table = Table(columns, numbers_of(opposite(push)) + (ZERO,) * many, [False] * len(columns))
+    if table.barrier() is not None:
+        return None
+    table.make_least([ZERO] * (2 * many) + [ONE])
+    return table.weights()[2 * many]
