@@ -172,6 +172,21 @@ class Fewest(Case):
             some += 0 < len(found) < len(jig)
         self.assertGreater(some, 20)
 
+    def test_seven_rows_at_least_and_twelve_at_most(self):
+        # Rows both ways count twice; what is left when nothing more can go holds by few rows.
+        draws, counts = HoldDraws(158), set()
+        for _ in range(120):
+            jig = tuple(draws.touch(("pin", "stop")) for _ in range(2)) + draws.vice(2) + tuple(
+                ("pin", draws.point(), draws.way()) for _ in range(3))
+            while needless_touches(jig):
+                index = draws.pick(needless_touches(jig))
+                jig = jig[:index] + jig[index + 1:]
+            if word_of(jig) == "held":
+                counts.add(sum(2 if touch[0] == "pin" else 1 for touch in jig))
+        self.assertTrue(counts)
+        self.assertGreaterEqual(min(counts), 7)
+        self.assertLessEqual(max(counts), 12)
+
     def test_told_jigs(self):
         self.assertEqual(fewest_holding(FIRM), (0, 1, 2, 3, 4))
         self.assertEqual(needless_touches(FIRM), ())
