@@ -1,12 +1,13 @@
 """Which pushes a jig bears, with which weights, and how far they may grow ([33] to [35])."""
-from sevenpins.balances import balance_or_move, balance_table, opposite, order_of_rows, pushes_of, screw_total, ways_of
+from sevenpins.balances import balance_or_move, balance_table, opposite, order_of_rows, pushes_of, ways_of
 from sevenpins.errors import InvalidIndex, InvalidLot
-from sevenpins.ratios import ONE, ZERO
+from sevenpins.ratios import ONE, ZERO, ratio_sum
 from sevenpins.screws import check_screw, is_screw
 from sevenpins.systems import numbers_of
 from sevenpins.tables import Table
 from sevenpins.touches import all_rows, check_jig
 from sevenpins.triples import is_whole
+from sevenpins.vectors import vector_dot, vector_sum
 
 MOST_IN_A_LOT = 6
 
@@ -142,21 +143,39 @@ def is_settled(jig, push):
     return weights is not None and are_alone(rows, weights)
 
 
+def greatest_sum(pushes, prices):
+    """The sum of the pushes, told by six numbers each, that is worth most at these prices, and what it is worth."""
+    total, worth = (ZERO,) * 6, ZERO
+    for push in pushes:
+        own = vector_dot(push, prices)
+        if own[0] > 0:
+            total, worth = vector_sum(total, push), ratio_sum(worth, own)
+    return total, worth
+
+
 def least_greatest(jig, push):
     """The least number from 0 on that no weight of some balance is above, nor its opposite for rows both ways."""
     check_jig(jig)
     check_screw(push)
     rows = all_rows(jig)
-    many = len(rows)
-    # Of each row both ways the weight and the bound together stand here, from 0 up to twice the bound.
-    units = [tuple(ONE if at == place else ZERO for at in range(many)) for place in range(many)]
-    columns = [numbers_of(told) + unit for told, unit in zip(pushes_of(rows), units)]
-    columns += [(ZERO,) * 6 + unit for unit in units]
-    both_ways = screw_total([told for told, both in rows if both])
-    bounds = tuple((-2, 1) if both else (-1, 1) for both in ways_of(rows))
-    columns.append(numbers_of(opposite(both_ways)) + bounds)
-    table = Table(columns, numbers_of(opposite(push)) + (ZERO,) * many, [False] * len(columns))
+    pushes = [numbers_of(told) for told in pushes_of(rows)]
+    pushes += [numbers_of(opposite(told)) for told, both in rows if both]
+    table = Table(pushes, numbers_of(opposite(push)), [False] * len(pushes))
     if table.barrier() is not None:
         return None
-    table.make_least([ZERO] * (2 * many) + [ONE])
-    return table.weights()[2 * many]
+    # Weights up to m make m times what weights up to 1 make. So each sum of different pushes is a column of the
+    # cost 1, and the least sum of costs is asked for; only those columns are added that make it less.
+    table.make_least([ONE] * len(pushes))
+    while True:
+        column, worth = greatest_sum(pushes, table.prices())
+        if not is_above(worth, ONE):
+            return total_of(table.weights())
+        table.add_column(column, 1)
+        table.improve()
+
+
+def total_of(fractions):
+    total = ZERO
+    for fraction in fractions:
+        total = ratio_sum(total, fraction)
+    return total

@@ -5,7 +5,6 @@ this column alone, of all columns of the basis, has a number other than 0, and t
 exchanged one at a time, of all that would do always the first one, so no basis comes twice (Bland 1977).
 """
 from sevenpins.ratios import ZERO, over_common, ratio
-from sevenpins.rows import whole_row
 
 
 class Table:
@@ -16,7 +15,7 @@ class Table:
 
     def __init__(self, columns, target, free):
         self.many = len(columns)
-        self.free = free
+        self.free = list(free)
         self.basis = [None] * len(target)
         # What all numbers in the rows of the basis have at their own columns: it divides what an exchange makes.
         self.scale = 1
@@ -30,6 +29,7 @@ class Table:
             told = [1 if place == at else 0 for place in range(len(target))]
             self.rows.append([column[at] for column, _ in wholes] + [number] + told)
         self.cost = [0] * (self.many + 1 + len(target))
+        self.times_cost = 1
 
     def exchange(self, at, place):
         """Takes the column at this place into the basis, by the row with this index."""
@@ -107,13 +107,18 @@ class Table:
 
         The basis has weights that meet all equations.
         """
-        weighed = [(above * often, below) for (above, below), often in zip(costs, self.times)]
-        self.cost = [self.scale * number for number in whole_row(weighed)] + [0] * (len(self.rows) + 1)
+        numbers, self.times_cost = over_common(costs)
+        weighed = [self.scale * number * often for number, often in zip(numbers, self.times)]
+        self.cost = weighed + [0] * (len(self.rows) + 1)
         for at, place in enumerate(list(self.basis)):
             if place is not None:
                 self.cost = self.without(self.cost, self.rows[at], place)
         if any(self.free[place] and self.cost[place] != 0 for place in range(self.many)):
             return False
+        return self.improve()
+
+    def improve(self):
+        """Exchanges columns until the sum of the costs is the least one: False if it goes down without end."""
         while True:
             place = self.first_place_below(self.cost)
             if place is None:
@@ -141,3 +146,22 @@ class Table:
                 weight = self.rows[at][self.many] * self.times[place]
                 found[place] = ratio(weight, self.rows[at][place] * self.times_target)
         return found
+
+    def prices(self):
+        """What each of the told equations adds to the sum of the costs, for each one by which its target grows."""
+        below = -self.scale * self.times_cost
+        return tuple(ratio(number, below) for number in self.cost[self.many + 1:])
+
+    def add_column(self, column, cost):
+        """Adds a column, not free, that is a sum of those that are there; its weight is 0, its cost a whole number."""
+        numbers, common = over_common(column)
+        behind = self.many + 1
+        for at, row in enumerate(list(self.rows)):
+            worth = sum(often * number for often, number in zip(row[behind:], numbers))
+            self.rows[at] = row[:self.many] + [worth] + row[self.many:]
+        worth = self.scale * self.times_cost * cost * common
+        worth += sum(often * number for often, number in zip(self.cost[behind:], numbers))
+        self.cost = self.cost[:self.many] + [worth] + self.cost[self.many:]
+        self.times.append(common)
+        self.free.append(False)
+        self.many += 1
