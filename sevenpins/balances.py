@@ -1,10 +1,10 @@
 """Rows that push, one way or both ways, and weights that balance a push; what is passed is not checked here."""
-from sevenpins.ratios import ONE, ratio_sum
+from sevenpins.ratios import ONE, as_fractions, ratio_sum
 from sevenpins.rows import stairs
 from sevenpins.screws import power, screw_sum, screw_times
 from sevenpins.systems import numbers_of, row_of
 from sevenpins.tables import Table
-from sevenpins.vectors import NOUGHT
+from sevenpins.vectors import NOUGHT, vector_times, vector_total
 
 
 def pushes_of(rows):
@@ -36,33 +36,61 @@ def screw_total(screws):
     return total
 
 
+def weighed_screws(screws, weights):
+    """The sum of the screws, each times its weight."""
+    return screw_total([screw_times(screw, weight) for screw, weight in zip(screws, weights)])
+
+
+def columns_of(rows):
+    return [numbers_of(push) for push in pushes_of(rows)]
+
+
 def balance_table(rows, push):
     """The table for the weights that make the opposite of the push."""
-    columns = [numbers_of(told) for told in pushes_of(rows)]
-    return Table(columns, numbers_of(opposite(push)), ways_of(rows))
+    return Table(columns_of(rows), numbers_of(opposite(push)), ways_of(rows))
+
+
+def bar_of(table):
+    """Numbers, one for each equation of the table, that bar weights which meet all of them; None if there are some."""
+    barrier = table.barrier()
+    return None if barrier is None else as_fractions(barrier[table.many + 1:])
+
+
+def balance_or_bar(columns, ways, numbers):
+    """A pair: weights by which the columns make the opposite of the numbers, or else numbers that bar them.
+
+    The products of what bars with each column add up to 0 or more (0 for one that goes both ways), those with the
+    told numbers to more than 0.
+    """
+    table = Table(columns, vector_times(numbers, (-1, 1)), ways)
+    bar = bar_of(table)
+    return (table.weights(), None) if bar is None else (None, bar)
+
+
+def full_balance_or_bar(columns, ways):
+    """A pair: weights, above 0 for the columns one way, that make 0, or else numbers that bar them."""
+    total = vector_total([column for column, both in zip(columns, ways) if not both], len(columns[0]))
+    weights, bar = balance_or_bar(columns, ways, total)
+    if weights is None:
+        return None, bar
+    return [weight if both else ratio_sum(weight, ONE) for weight, both in zip(weights, ways)], None
+
+
+def move_barring(bar):
+    """The move on which each push has as power its products with these numbers added up; None for None."""
+    return None if bar is None else (bar[3:], bar[:3])
 
 
 def balance_or_move(rows, push):
     """A pair: weights that make the opposite of the push, or else a left move on which its power is above 0."""
-    table = balance_table(rows, push)
-    barrier = table.barrier()
-    if barrier is None:
-        return table.weights(), None
-    # The told equations with these numbers leave each row a power from 0 on, the opposite of the push one below 0.
-    numbers = tuple((number, 1) for number in barrier[table.many + 1:])
-    return None, (numbers[3:], numbers[:3])
-
-
-def one_way_total(rows):
-    return screw_total([push for push, both in rows if not both])
+    weights, bar = balance_or_bar(columns_of(rows), ways_of(rows), numbers_of(push))
+    return weights, move_barring(bar)
 
 
 def full_weights_or_move(rows):
     """A pair: weights, above 0 for the rows one way, that make 0, or else a left move with a power above 0 on one."""
-    weights, move = balance_or_move(rows, one_way_total(rows))
-    if weights is None:
-        return None, move
-    return [weight if both else ratio_sum(weight, ONE) for weight, both in zip(weights, ways_of(rows))], None
+    weights, bar = full_balance_or_bar(columns_of(rows), ways_of(rows))
+    return weights, move_barring(bar)
 
 
 def order_of_rows(rows):

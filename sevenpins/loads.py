@@ -1,7 +1,7 @@
 """Which pushes a jig bears, with which weights, and how far they may grow ([33] to [35])."""
-from sevenpins.balances import balance_or_move, balance_table, opposite, order_of_rows, pushes_of, ways_of
+from sevenpins.balances import balance_or_move, balance_table, columns_of, opposite, order_of_rows, ways_of
 from sevenpins.errors import InvalidIndex, InvalidLot
-from sevenpins.ratios import ONE, ZERO, ratio_sum
+from sevenpins.ratios import ONE, ZERO, is_above, ratio_sum
 from sevenpins.screws import check_screw, is_screw
 from sevenpins.systems import numbers_of
 from sevenpins.tables import Table
@@ -72,7 +72,7 @@ def weight_ends(table, place):
 
 def factors_for(rows, push, other):
     """The least and the greatest f from 0 on for which the push plus f times the other one is borne."""
-    columns = [numbers_of(told) for told in pushes_of(rows)] + [numbers_of(other)]
+    columns = columns_of(rows) + [numbers_of(other)]
     table = Table(columns, numbers_of(opposite(push)), ways_of(rows) + [False])
     return None if table.barrier() is not None else weight_ends(table, len(rows))
 
@@ -83,10 +83,6 @@ def times_range(jig, push, other):
     check_screw(push)
     check_screw(other)
     return factors_for(all_rows(jig), push, other)
-
-
-def is_above(first, second):
-    return first[0] * second[1] > second[0] * first[1]
 
 
 def met_ranges(first, second):
@@ -158,7 +154,7 @@ def least_greatest(jig, push):
     check_jig(jig)
     check_screw(push)
     rows = all_rows(jig)
-    pushes = [numbers_of(told) for told in pushes_of(rows)]
+    pushes = columns_of(rows)
     pushes += [numbers_of(opposite(told)) for told, both in rows if both]
     table = Table(pushes, numbers_of(opposite(push)), [False] * len(pushes))
     if table.barrier() is not None:

@@ -1,7 +1,6 @@
 """Gauges: pins with errors, and how far marks on the work shift over all of them ([36], [37])."""
 from sevenpins.errors import InvalidGauge, InvalidMark, NoMoveFits
-from sevenpins.loads import is_above
-from sevenpins.ratios import ZERO, ratio, ratio_product, ratio_sum
+from sevenpins.ratios import ZERO, is_above, ratio, ratio_product, ratio_sum
 from sevenpins.rows import weights_for
 from sevenpins.screws import check_screw, line_at, power
 from sevenpins.systems import back_base, numbers_of, system_of
@@ -149,11 +148,6 @@ def blind_move(gauge, mark):
     return None
 
 
-def check_fits(gauge):
-    if misfit_or_move(gauge)[1] is None:
-        raise NoMoveFits()
-
-
 def turned_about(gauge):
     """The gauge with the errors of each pin the opposites."""
     return tuple(
@@ -162,28 +156,59 @@ def turned_about(gauge):
     )
 
 
-def least_sum(gauge, mark):
-    """Shares of the mark whose sum of [37] is the least one, and this sum; None if it is not settled.
+def sum_over(weights, stretches):
+    """The sum of [37], each stretch a pair of LOW and HIGH."""
+    total = ZERO
+    for weight, (low, high) in zip(weights, stretches):
+        total = ratio_sum(total, ratio_product(weight, high if weight[0] > 0 else low))
+    return total
+
+
+def greatest_by(gauge, shares):
+    """What no shift passes upward, by these shares of the mark."""
+    return sum_over(shares, [stretch for _, _, stretch in gauge])
+
+
+def least_by(gauge, shares):
+    """What no shift passes downward, by these shares of the mark."""
+    return sum_over(shares, [(high, low) for _, _, (low, high) in gauge])
+
+
+def least_table(gauge, mark):
+    """The table for shares of the mark whose sum of [37] is the least one, which it is; None if it is not settled.
 
     Some move fits, so that there is a least sum.
     """
     pushes = [numbers_of(push) for push in pin_pushes(gauge)]
-    columns, costs = both_signs(pushes), pin_costs(gauge)
+    columns = both_signs(pushes)
     table = Table(columns, numbers_of(line_at(mark[0], mark[1])), [False] * len(columns))
     if table.barrier() is not None:
         return None
-    table.make_least(costs)
-    weights, total = table.weights(), ZERO
-    for weight, cost in zip(weights, costs):
-        total = ratio_sum(total, ratio_product(weight, cost))
-    return signed_weights(weights), total
+    table.make_least(pin_costs(gauge))
+    return table
+
+
+def farthest_move(gauge, mark):
+    """A move that fits by which the shift of a settled mark is the greatest one; some move fits."""
+    # What the sum of [37] grows by, for each number of the mark's push: that is a move, and fits.
+    prices = least_table(gauge, mark).prices()
+    return (prices[3:], prices[:3])
+
+
+def least_sum(gauge, mark):
+    """Shares of the mark whose sum of [37] is the least one, and this sum; None if it is not settled."""
+    table = least_table(gauge, mark)
+    if table is None:
+        return None
+    shares = signed_weights(table.weights())
+    return shares, greatest_by(gauge, shares)
 
 
 def ends_of(gauge, mark):
-    """Pairs of shares and their sum of [37]: for the least and for the greatest shift; None if it is not settled."""
-    check_gauge(gauge)
-    check_mark(mark)
-    check_fits(gauge)
+    """Pairs of shares and their sum of [37]: for the least and for the greatest shift; None if it is not settled.
+
+    Some move fits.
+    """
     greatest = least_sum(gauge, mark)
     if greatest is None:
         return None
@@ -191,13 +216,22 @@ def ends_of(gauge, mark):
     return (shares, ratio_product(total, (-1, 1))), greatest
 
 
+def check_range(gauge, mark):
+    check_gauge(gauge)
+    check_mark(mark)
+    if misfit_or_move(gauge)[1] is None:
+        raise NoMoveFits()
+
+
 def mark_range(gauge, mark):
     """The least and the greatest shift of the mark over all moves that fit, None if it is not settled."""
+    check_range(gauge, mark)
     ends = ends_of(gauge, mark)
     return None if ends is None else (ends[0][1], ends[1][1])
 
 
 def range_weights(gauge, mark):
     """Shares for the least and for the greatest shift of the mark, None if it is not settled."""
+    check_range(gauge, mark)
     ends = ends_of(gauge, mark)
     return None if ends is None else (ends[0][0], ends[1][0])

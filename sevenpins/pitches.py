@@ -2,17 +2,13 @@
 from sevenpins.errors import InvalidNumber
 from sevenpins.forms import signs_of, squares
 from sevenpins.ratios import ratio_quotient
-from sevenpins.rows import weighed_rows
+from sevenpins.rows import inner, weighed_rows
 from sevenpins.screws import line_at, nearest_points, screw_sum, screw_times
-from sevenpins.systems import check_system, row_of, slides_of
+from sevenpins.systems import check_system, row_of, slides_of, whole_screw
 from sevenpins.triples import check_fraction, is_whole, plain_direction
 from sevenpins.vectors import is_nought, vector_cross, vector_dot, vector_less, vector_times
 
 MOST = 10 ** 12
-
-
-def inner(first, second):
-    return sum(a * b for a, b in zip(first, second))
 
 
 def bent_rows(rows):
@@ -36,11 +32,6 @@ def squares_at(system, fraction):
     rows = [row_of(screw) for screw in system]
     found = squares(matrix_at(bent_rows(rows), fraction[0], fraction[1]))
     return [(number, whole_screw(weighed_rows(weights, rows, 6))) for number, weights in found]
-
-
-def whole_screw(row):
-    numbers = tuple((number, 1) for number in row)
-    return (numbers[:3], numbers[3:])
 
 
 def signs_of_rows(rows, fraction):

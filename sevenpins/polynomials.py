@@ -2,7 +2,7 @@
 
 A polynomial is a list of whole numbers, that of the highest power first and not 0; [] is the polynomial 0.
 """
-from sevenpins.ratios import forward
+from sevenpins.ratios import as_fractions, forward
 from sevenpins.rows import cleared, first_place, weights_for, whole_row
 
 
@@ -29,10 +29,6 @@ def quotient(first, second):
     over = len(first) - len(second)
     shifts = [as_fractions([0] * place + second + [0] * (over - place)) for place in range(over + 1)]
     return whole_row(weights_for(shifts, as_fractions(first)))
-
-
-def as_fractions(row):
-    return [(number, 1) for number in row]
 
 
 def sign_chain(row):

@@ -25,12 +25,21 @@ def ratio_quotient(first, second):
     return ratio(first[0] * second[1], first[1] * second[0])
 
 
+def is_above(first, second):
+    return first[0] * second[1] > second[0] * first[1]
+
+
 def over_common(fractions):
     """The fractions told as a list of whole numbers over one number above 0."""
     common = 1
     for _, below in fractions:
         common = lcm(common, below)
     return [above * (common // below) for above, below in fractions], common
+
+
+def as_fractions(numbers):
+    """The whole numbers as fractions."""
+    return tuple((number, 1) for number in numbers)
 
 
 def without_common(numbers):

@@ -13,6 +13,10 @@ def whole_row(fractions):
     return without_common(numbers)
 
 
+def inner(first, second):
+    return sum(a * b for a, b in zip(first, second))
+
+
 def first_place(row):
     """The place of the first number that is not 0, the length of a row of noughts."""
     for place, number in enumerate(row):

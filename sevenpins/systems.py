@@ -1,6 +1,6 @@
 """Systems of screws, told by their bases in stairs ([15] to [17])."""
 from sevenpins.errors import InvalidScrews, InvalidSystem
-from sevenpins.ratios import ONE, ZERO, ratio
+from sevenpins.ratios import ONE, ZERO, as_fractions, ratio
 from sevenpins.rows import first_place, kernel_rows, stairs, whole_row
 from sevenpins.screws import check_screw, is_screw, line_at, slide_along
 from sevenpins.triples import check_direction, check_triple
@@ -16,6 +16,12 @@ def numbers_of(screw):
 def row_of(screw):
     """Six whole numbers of which the screw is a multiple above 0."""
     return whole_row(numbers_of(screw))
+
+
+def whole_screw(row):
+    """The screw with these six whole numbers."""
+    numbers = as_fractions(row)
+    return (numbers[:3], numbers[3:])
 
 
 def lead_place(screw):
@@ -169,4 +175,4 @@ def screws_in(system, point, direction):
 def directions_across(direction):
     """Two directions that make all triples at right angles to the direction."""
     rows = kernel_rows([whole_row(direction)], 3)
-    return [tuple((number, 1) for number in row) for row in rows]
+    return [as_fractions(row) for row in rows]

@@ -89,6 +89,14 @@ class Table:
                 return row
             self.exchange(at, place)
 
+    def aim(self, target):
+        """Takes another target, for the same columns and with the basis that is there."""
+        numbers, self.times_target = over_common(target)
+        behind = self.many + 1
+        for at, row in enumerate(list(self.rows)):
+            worth = sum(often * number for often, number in zip(row[behind:], numbers))
+            self.rows[at] = row[:self.many] + [worth] + row[behind:]
+
     def first_below(self):
         """The index of the first row with a weight below 0 that must not be."""
         for at in self.bound_rows():

@@ -2,7 +2,7 @@
 from math import gcd
 
 from sevenpins.errors import InvalidDirection, InvalidFraction, InvalidNumber, InvalidTriple
-from sevenpins.ratios import forward, over_common, ratio
+from sevenpins.ratios import as_fractions, forward, over_common, ratio
 from sevenpins.vectors import is_nought, vector_cross, vector_dot, vector_sum, vector_times
 
 
@@ -86,4 +86,4 @@ def plain_direction(direction):
     """The one multiple of a direction that is plain."""
     check_direction(direction)
     numbers, _ = over_common(direction)
-    return tuple((number, 1) for number in forward(numbers))
+    return as_fractions(forward(numbers))

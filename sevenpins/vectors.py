@@ -1,5 +1,5 @@
 """Sums of tuples of fractions, triples above all; what is passed is not checked here."""
-from sevenpins.ratios import over_common, ratio, ratio_product, ratio_sum
+from sevenpins.ratios import ZERO, over_common, ratio, ratio_product, ratio_sum
 
 NOUGHT = ((0, 1), (0, 1), (0, 1))
 AXES = (((1, 1), (0, 1), (0, 1)), ((0, 1), (1, 1), (0, 1)), ((0, 1), (0, 1), (1, 1)))
@@ -15,6 +15,14 @@ def vector_sum(first, second):
 
 def vector_times(numbers, fraction):
     return tuple(ratio_product(number, fraction) for number in numbers)
+
+
+def vector_total(vectors, width):
+    """The sum of any number of tuples of so many fractions."""
+    total = (ZERO,) * width
+    for numbers in vectors:
+        total = vector_sum(total, numbers)
+    return total
 
 
 def vector_less(first, second):
