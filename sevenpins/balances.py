@@ -51,7 +51,7 @@ def balance_table(rows, push):
 
 
 def bar_of(table):
-    """Numbers, one for each equation of the table, that bar weights which meet all of them; None if there are some."""
+    """Numbers, one for each equation of the table, that bar weights which meet all of these; None if some do."""
     barrier = table.barrier()
     return None if barrier is None else as_fractions(barrier[table.many + 1:])
 

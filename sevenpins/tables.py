@@ -90,7 +90,7 @@ class Table:
             self.exchange(at, place)
 
     def aim(self, target):
-        """Takes another target, for the same columns and with the basis that is there."""
+        """Takes another target, for the same columns and with the basis that is there, before costs are told."""
         numbers, self.times_target = over_common(target)
         behind = self.many + 1
         for at, row in enumerate(list(self.rows)):

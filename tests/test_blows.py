@@ -15,7 +15,9 @@ from tests.helpers import (
     own_stairs, own_system, pair, plus, refused, same_number, same_screw, same_vector, screw, six, times, triple,
     vector, weighed, wrong_bases,
 )
-from tests.jigs import GOOD_TOUCHES, NOUGHT_SCREW, WRONG_JIGS, JigDraws, Left, own_is_left, own_jig_rows, own_made, worth
+from tests.jigs import (
+    GOOD_TOUCHES, NOUGHT_SCREW, WRONG_JIGS, JigDraws, Left, own_is_left, own_jig_rows, own_made, worth,
+)
 from tests.test_touches import own_led, own_placed, own_placed_jig
 
 ONE = (1, 1)
@@ -366,7 +368,7 @@ class Struck(Case):
 
     def test_large_numbers_in_time(self):
         draws, far = BodyDraws(336), 10 ** 20
-        for _ in range(5):
+        for _ in range(3):
             def value():
                 return Fraction(draws.whole(-far, far), draws.whole(1, far))
             body = tuple((triple([value() for _ in range(3)]), pair(abs(value()) + 1)) for _ in range(8))

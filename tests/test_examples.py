@@ -1,6 +1,8 @@
 """The examples of the document, in its order: names that an example makes hold in those behind it."""
 import unittest
 
+from sevenpins.errors import ScrewError
+
 TRIPLES = """
 >>> from sevenpins.triples import cross, dot, fraction_of, is_direction, is_fraction, is_triple, plain_direction, triple_sum, triple_times
 >>> zero, half, one, two, less = (0, 1), (1, 2), (1, 1), (2, 1), (-1, 1)
@@ -146,6 +148,56 @@ MARKS = """
 [False, True, True, False, True]
 """
 
+HEAPS = """
+>>> from sevenpins.heaps import heap_balance, heap_bears, heap_word, still_bodies
+>>> solo = ((0, 1, firm[0]), (0, 1, firm[1]), (0, 1, firm[2]), (0, 1, firm[3]), (0, 1, firm[4]))
+>>> pile = (2, ((0, 1, table[0]), (1, 2, ("cup", up))))
+>>> [heap_word((1, solo)), heap_word((2, solo)), still_bodies((2, solo)), heap_word(pile), still_bodies(pile)]
+['held', 'kept', (1,), 'loose', ()]
+>>> sole = ((zero, zero, less), here)
+>>> [heap_bears(pile, (heavy, sole)), heap_bears(pile, (heavy, load)), heap_balance(pile, (heavy, sole))[4:], heap_bears((2, solo), (lift, (here, here)))]
+[True, False, ((0, 1), (0, 1), (1, 1)), True]
+"""
+
+BLOWS = """
+>>> from sevenpins.blows import blown, energy, is_body, kept_blow, middle, momentum, stop_blows, struck
+>>> from sevenpins.systems import system_of
+>>> back_x, back_y = triple_times(x, (-1, 1)), triple_times(y, (-1, 1))
+>>> cross4, knock = ((x, (1, 1)), (back_x, (1, 1)), (y, (1, 1)), (back_y, (1, 1))), line_at(x, z)
+>>> [is_body(cross4[:2]), middle(cross4) == o, momentum(cross4, slide_along(z)) == screw_times(line_at(o, z), (4, 1)), energy(cross4, line_at(o, z)), energy(cross4, line_at(o, x))]
+[False, True, True, (4, 1), (2, 1)]
+>>> [blown(cross4, knock), energy(cross4, blown(cross4, knock)), kept_blow(cross4, system_of((slide_along(x), slide_along(y), slide_along(z))), knock)]
+[(((0, 1), (-1, 2), (0, 1)), ((0, 1), (0, 1), (1, 4))), (3, 4), (((0, 1), (0, 1), (0, 1)), ((0, 1), (0, 1), (1, 4)))]
+>>> lid = (("stop", o, triple_times(z, (-1, 1))),)
+>>> [struck(lid, cross4, knock), stop_blows(lid, cross4, knock), struck(lid, cross4, line_at(x, triple_times(z, (-1, 1))))]
+[(((0, 1), (-1, 2), (0, 1)), ((0, 1), (0, 1), (0, 1))), ((1, 1),), (((0, 1), (1, 2), (0, 1)), ((0, 1), (0, 1), (-1, 4)))]
+"""
+
+SPRINGS = """
+>>> from sevenpins.springs import are_springs, are_steady, are_stiffer, given_way, pushed_back, softer_move, spring_energy
+>>> feet, sides = ((o, x, one), (o, y, one), (o, z, one)), ((y, x, one), (z, y, one), (x, z, one))
+>>> [are_springs(()), are_steady(feet), are_steady(feet + sides), spring_energy(feet, line_at(x, z)), spring_energy(feet + sides, line_at(o, z)), pushed_back(feet + sides, slide_along(x))]
+[False, False, True, (1, 1), (1, 1), (((-2, 1), (0, 1), (0, 1)), ((0, 1), (0, 1), (1, 1)))]
+>>> [given_way(feet + sides, line_at(o, x)) == (z, x), given_way(feet, slide_along(x)), are_stiffer(feet + sides, feet), are_stiffer(feet, sides), softer_move(feet + sides, sides), spring_energy(feet, softer_move(feet, sides))[0] >= 0]
+[True, None, True, False, None, True]
+"""
+
+CONSOLES = """
+>>> from sevenpins.consoles import Console
+>>> from sevenpins.workshops import Workshop
+>>> shop = Workshop()
+>>> console = Console(shop)
+>>> [console.say("put bed: stop 0/1 0/1 0/1 0/1 0/1 1/1; cup 1/2 0/1 0/1"), console.say("names"), console.say("jig bed"), console.say("word bed")]
+['done', 'bed', 'stop 0/1 0/1 0/1 0/1 0/1 1/1; cup 1/2 0/1 0/1', 'loose']
+>>> [console.say("bears bed: 0/1 0/1 -1/1 0/1 0/1 0/1"), console.say("bears bed: 0/1 0/1 1/1 0/1 0/1 0/1"), console.say("lets bed: 1/1 0/1 0/1 0/1 0/1 0/1"), console.say("lets bed: 0/1 0/1 0/1 1/1 0/1 0/1")]
+['yes', 'no', 'yes', 'no']
+>>> shop.wish(("on", "bed", 1))
+>>> shop.wish(("held", "bed"))
+raises Broken(index=1)
+>>> [len(shop), shop.names, console.say("undo"), console.say("drop bed"), shop.names]
+[2, ('bed',), 'done', 'done', ()]
+"""
+
 
 def parted(text):
     """Pairs of a row of code and what is told behind it, None for nothing."""
@@ -163,8 +215,17 @@ class Examples(unittest.TestCase):
             for code, told in parted(text):
                 if told is None:
                     exec(code, names)
+                elif told.startswith("raises "):
+                    self.assertEqual(self.raised(code, names), told[7:], code)
                 else:
                     self.assertEqual(repr(eval(code, names)), told, code)
+
+    def raised(self, code, names):
+        """The error that the code raises, as the document tells it."""
+        with self.assertRaises(ScrewError) as held:
+            eval(code, names)
+        kept = ", ".join(f"{name}={value!r}" for name, value in vars(held.exception).items())
+        return f"{type(held.exception).__name__}({kept})"
 
     def test_triples(self):
         self.run_examples(TRIPLES)
@@ -205,9 +266,22 @@ class Examples(unittest.TestCase):
     def test_marks(self):
         self.run_examples(TRIPLES, SYSTEMS, TOUCHES, MARKS)
 
+    def test_heaps(self):
+        self.run_examples(TRIPLES, SYSTEMS, TOUCHES, LOADS, HEAPS)
+
+    def test_blows(self):
+        self.run_examples(TRIPLES, SCREWS, BLOWS)
+
+    def test_springs(self):
+        self.run_examples(TRIPLES, SCREWS, SPRINGS)
+
+    def test_consoles(self):
+        self.run_examples(CONSOLES)
+
     def test_all(self):
         self.run_examples(
             TRIPLES, TURNINGS, SCREWS, SYSTEMS, LINES, PITCHES, JOINTS, WEBS, STANDS, TOUCHES, HOLDS, LOADS, MARKS,
+            HEAPS, BLOWS, SPRINGS, CONSOLES,
         )
 
 

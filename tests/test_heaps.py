@@ -12,7 +12,7 @@ from sevenpins.loads import is_borne
 from sevenpins.touches import word_of
 from tests.helpers import (
     ANYTHING, NOUGHT, WRONG_SCREWS, X, Y, Z, assert_fraction, assert_screw, check_refusals, indexed, inner, number,
-    own_kernel, own_line, own_rank, plus, screw, six, times, triple, vector,
+    own_kernel, own_rank, plus, screw, six, times, triple, vector,
 )
 from tests.jigs import GOOD_TOUCHES, NOUGHT_SCREW, WRONG_TOUCHES, JigDraws, own_jig_rows, own_rows
 from tests.test_touches import own_led, own_placed_jig
@@ -277,7 +277,7 @@ class Words(Case):
 
     def test_large_heaps(self):
         seen = {}
-        for draws, heap, rows in self.large(302, 80):
+        for draws, heap, rows in self.large(302, 60):
             word, still = self.check_word(heap, rows), self.check_still(heap, rows)
             self.assertEqual(word == "held", still == tuple(range(1, heap[0] + 1)))
             seen[word, len(still) > 0] = seen.get((word, len(still) > 0), 0) + 1
@@ -286,11 +286,11 @@ class Words(Case):
         self.assertGreater(seen["held", True], 5)
         self.assertGreater(seen["kept", True], 1)
         self.assertGreater(seen["kept", False], 3)
-        self.assertGreater(seen["loose", False], 20)
+        self.assertGreater(seen["loose", False], 10)
 
     def test_still_beside_loose(self):
         draws = HeapDraws(303)
-        for _ in range(12):
+        for _ in range(5):
             tied = draws.tied_heap(1, 2)
             other = draws.touch(("stop", "rest", "groove"))
             for bodies, contact in ((2, (1, 2, other)), (2, (2, 0, other)), (3, (3, 2, other)), (3, (2, 3, other))):
@@ -299,6 +299,26 @@ class Words(Case):
                 first = self.check_still((1, tied[1]), own_heap_rows((1, tied[1])))
                 self.assertEqual(self.check_still(heap, rows), first)
                 self.assertEqual(self.check_word(heap, rows), "loose")
+
+    def test_still_by_rows_one_way_beside_one_that_comes_off(self):
+        firm = (("cup", NOUGHT), ("stop", Y, Z), ("stop", Z, X), ("stop", X, Y),
+                ("stop", triple((Fraction(1, 2), Fraction(1, 2), -1)), triple((1, -1, 0))))
+        stop = ("stop", NOUGHT, Z)
+        for bodies, held, lone in ((2, 1, (1, 2)), (2, 2, (1, 2)), (3, 2, (2, 3)), (3, 1, (3, 2)), (3, 3, (0, 1))):
+            contacts = tuple((0, held, touch) for touch in firm) + (lone + (stop,),)
+            for told in (contacts, contacts[::-1]):
+                heap = (bodies, told)
+                self.assertEqual(self.check_still(heap, own_heap_rows(heap)), (held,))
+                self.check_word(heap, own_heap_rows(heap), "loose")
+        short = (1, tuple((0, 1, touch) for touch in firm[:4]))
+        self.check_still(short, own_heap_rows(short), ())
+
+    def test_still_beside_free_ones(self):
+        cups = tuple(("cup", point) for point in (X, Y, Z))
+        for bodies in (1, 2, 3):
+            for held in range(1, bodies + 1):
+                heap = (bodies, tuple((held, 0, cup) for cup in cups))
+                self.check_still(heap, own_heap_rows(heap), (held,))
 
     def test_bodies_that_no_contact_names(self):
         for _, heap, rows in self.small(304, 25):
@@ -431,7 +451,7 @@ class Great(Case):
     def test_greatest_heaps_in_time(self):
         draws = HeapDraws(310)
         for words, far in ((("groove", "cup", "rest"), None), (("groove", "cup"), 10 ** 9), (("groove",), 10 ** 9)):
-            for _ in range(4):
+            for _ in range(2):
                 heap = self.full_heap(draws, words, far)
                 self.assertTrue(is_heap(heap))
                 rows, began = own_heap_rows(heap), time.process_time()
@@ -478,13 +498,14 @@ def wrong_heaps():
     found = [(value, None) for value in ANYTHING]
     found += [(value, None) for value in [
         (2, ()), (2,), (2, (contact,), 1), [2, (contact,)], (2, [contact]), ((contact,), 2), (0, (contact,)),
-        (4, (contact,)), (-1, (contact,)), (True, (contact,)), (None, (contact,)), ("2", (contact,)), ((2,), (contact,)),
-        (10 ** 30, (contact,)), (contact, contact), (2, None), (2, {contact: 1}), (2, "ab"),
+        (4, (contact,)), (-1, (contact,)), (True, (contact,)), (None, (contact,)), ("2", (contact,)),
+        ((2,), (contact,)), (10 ** 30, (contact,)), (contact, contact), (2, None), (2, {contact: 1}), (2, "ab"),
     ]]
     found += [((2, (contact,) * place + (wrong, None)), place) for place in (0, 9) for wrong in wrong_contacts()]
     found += [((2, (contact,) * 10 + (last,)), 10) for last in (contact, None, rest)]
     found += [((2, (rest,) * 4 + (last,)), 4) for last in (contact, None, (1, 0, ("cup", X)))]
-    found += [((2, (rest, rest, rest, (0, 1, ("cup", X)), (0, 1, ("groove", X, Y, Z)), (0, 1, ("groove", X, Y, Z)))), 5)]
+    cup, groove = (0, 1, ("cup", X)), (0, 1, ("groove", X, Y, Z))
+    found.append(((2, (rest, rest, rest, cup, groove, groove)), 5))
     found += [((1, (contact, rest)), 1), ((2, (contact, contact, None) + (rest,) * 5), 2), ((2, contact), 0)]
     return found
 

@@ -64,10 +64,64 @@ INTERFACE = {
         "errors_fit(gauge, value)", "is_settled_mark(gauge, mark)", "mark_shares(gauge, mark)",
         "blind_move(gauge, mark)", "mark_range(gauge, mark)", "range_weights(gauge, mark)",
     ],
+    "heaps": [
+        "is_heap(value)", "heap_word(heap)", "heap_move(heap)", "heap_weights(heap)", "still_bodies(heap)",
+        "heap_bears(heap, pushes)", "heap_balance(heap, pushes)", "heap_breaking(heap, pushes)",
+    ],
+    "blows": [
+        "is_body(value)", "middle(body)", "momentum(body, move)", "energy(body, move)", "blown(body, blow)",
+        "kept_blow(body, system, blow)", "struck(jig, body, blow)", "stop_blows(jig, body, blow)",
+    ],
+    "springs": [
+        "are_springs(value)", "pushed_back(springs, move)", "spring_energy(springs, move)", "are_steady(springs)",
+        "given_way(springs, load)", "are_stiffer(springs, other)", "softer_move(springs, other)",
+    ],
+    "checker": ["accepts(claim, paper)"],
+    "certificates": [
+        "certify_screw(system, screw)", "certify_above(system, pitch)", "certify_pitch(system, pitch)",
+        "certify_jig(jig)", "certify_touch(jig, index)", "certify_push(jig, push)", "certify_mark(gauge, mark)",
+        "certify_range(gauge, mark, fraction, other)", "certify_move(arm, move)", "certify_stand(crane, index, stand)",
+        "certify_blow(jig, body, blow)", "certify_springs(springs, other)",
+    ],
+}
+CLASSES = {
+    ("workshops", "Workshop()"): [
+        "put(name, jig)", "drop(name)", "wish(wish)", "lift(index)", "named(name)", "undo()", "trial()",
+        "tried(action)",
+    ],
+    ("consoles", "Console(shop)"): ["say(line)"],
 }
 
 
 class Interface(unittest.TestCase):
+    def check_parameters(self, function, told, first=()):
+        parameters = inspect.signature(function).parameters
+        names = [name for name in told.split("(")[1].rstrip(")").split(", ") if name]
+        self.assertEqual(list(parameters), list(first) + names)
+        for parameter in parameters.values():
+            self.assertIs(parameter.kind, inspect.Parameter.POSITIONAL_OR_KEYWORD)
+            self.assertIs(parameter.default, inspect.Parameter.empty)
+
+    def test_classes(self):
+        for (name, signature), methods in CLASSES.items():
+            module = importlib.import_module("sevenpins." + name)
+            made = getattr(module, signature.split("(")[0])
+            self.assertTrue(inspect.isclass(made))
+            self.assertEqual(made.__module__, "sevenpins." + name)
+            self.check_parameters(made.__init__, signature, ("self",))
+            for told in methods:
+                with self.subTest(module=name, method=told):
+                    method = vars(made)[told.split("(")[0]]
+                    self.assertTrue(inspect.isfunction(method))
+                    self.check_parameters(method, told, ("self",))
+
+    def test_signs_and_properties_of_workshops(self):
+        made = importlib.import_module("sevenpins.workshops").Workshop
+        for name in ("__len__", "__contains__"):
+            self.assertTrue(inspect.isfunction(vars(made)[name]))
+        for name in ("names", "wishes"):
+            self.assertIsInstance(vars(made)[name], property)
+
     def test_functions(self):
         for name, signatures in INTERFACE.items():
             module = importlib.import_module("sevenpins." + name)
@@ -76,10 +130,7 @@ class Interface(unittest.TestCase):
                     function = getattr(module, told.split("(")[0])
                     self.assertTrue(inspect.isfunction(function))
                     self.assertEqual(function.__module__, "sevenpins." + name)
-                    parameters = inspect.signature(function).parameters
-                    self.assertEqual(", ".join(parameters), told.split("(")[1].rstrip(")"))
-                    for parameter in parameters.values():
-                        self.assertIs(parameter.kind, inspect.Parameter.POSITIONAL_OR_KEYWORD)
+                    self.check_parameters(function, told)
 
 
 if __name__ == "__main__":
