@@ -194,8 +194,8 @@ def press_upon(rows, masses, blow, weights, pressing):
 def move_and_weights(rows, body, blow):
     """The move of [43] and its weights.
 
-    Rows are taken in as long as the move passes one of them; each time the energy of what the weights take from the
-    blow goes down, so no choice of rows that press comes twice (Lawson and Hanson 1974).
+    Rows are taken in as long as the move passes one of them; each time the energy of the move goes down, so no choice
+    of rows that press comes twice (Lawson and Hanson 1974).
     """
     masses = masses_of(body)
     fixed = [at for at, (_, both) in enumerate(rows) if both]

@@ -9,7 +9,7 @@ from sevenpins.tables import Table
 from sevenpins.touches import MOST_ROWS, count_rows, is_touch, touch_rows
 from sevenpins.triples import is_whole
 from sevenpins.vectors import vector_dot, vector_times, vector_total
-from sevenpins.webs import is_body_number
+from sevenpins.webs import is_between
 
 MOST_BODIES = 3
 MOST_CONTACTS = 10
@@ -17,12 +17,7 @@ MOST_CONTACTS = 10
 
 def is_contact(value, bodies):
     """Whether a value is a contact of a heap with so many bodies."""
-    if not isinstance(value, tuple) or len(value) != 3:
-        return False
-    first, second, touch = value
-    if not is_body_number(first, bodies) or not is_body_number(second, bodies):
-        return False
-    return first != second and is_touch(touch)
+    return is_between(value, bodies) and is_touch(value[2])
 
 
 def is_heap_pair(value):

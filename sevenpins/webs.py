@@ -13,14 +13,17 @@ def is_body_number(value, most):
     return is_whole(value) and 0 <= value <= most
 
 
-def is_link(value, bodies):
-    """Whether a value is a link of a web with so many bodies."""
+def is_between(value, bodies):
+    """Whether a value is a tuple of the unlike numbers of two of so many bodies and the ground, and something more."""
     if not isinstance(value, tuple) or len(value) != 3:
         return False
-    first, second, joint = value
-    if not is_body_number(first, bodies) or not is_body_number(second, bodies):
-        return False
-    return first != second and is_joint(joint)
+    first, second, _ = value
+    return is_body_number(first, bodies) and is_body_number(second, bodies) and first != second
+
+
+def is_link(value, bodies):
+    """Whether a value is a link of a web with so many bodies."""
+    return is_between(value, bodies) and is_joint(value[2])
 
 
 def is_web_pair(value):
